@@ -1,0 +1,1 @@
+"""Scaleborn: what can be said without numbers."""

@@ -1,0 +1,69 @@
+"""Words of texts, read one by one."""
+
+from scaleborn.errors import BadText
+
+_MOST_DIGITS = 60
+
+
+class Reader:
+    """Words of a text, read from one place up to an end.
+
+    A missing word is read as the empty word: neither can stand anywhere, and the place tells
+    both apart.
+    """
+
+    def __init__(self, words, at, end):
+        self.words = words
+        self.at = at
+        self.end = end
+
+    def peek(self):
+        """The word that stands here."""
+        return self.words[self.at] if self.at < self.end else ""
+
+    def step(self):
+        """Go on to the next word."""
+        self.at += 1
+
+    def refuse(self):
+        """The word that stands here cannot stand."""
+        raise BadText(0, self.at)
+
+    def refuse_last(self):
+        """The word ahead cannot stand."""
+        raise BadText(0, self.at - 1)
+
+    def take(self, word):
+        """Go on behind this word, and no other one."""
+        if self.peek() != word:
+            self.refuse()
+        self.step()
+
+    def finish(self):
+        """No word more can stand."""
+        if self.at < self.end:
+            self.refuse()
+
+    def window(self, word):
+        """A reader of the words from here up to this word, or to the end."""
+        end = self.at
+        while end < self.end and self.words[end] != word:
+            end += 1
+        return Reader(self.words, self.at, end)
+
+
+def reader_of(text):
+    """A reader of all words of a text."""
+    if not isinstance(text, str):
+        raise BadText(0, 0)
+    words = text.split(" ")
+    return Reader(words, 0, len(words))
+
+
+def whole_in(word):
+    """The integer from 0 on that the word writes, None for any other word."""
+    if not 1 <= len(word) <= _MOST_DIGITS or not word.isascii() or not word.isdigit():
+        return None
+    if word[0] == "0" and len(word) > 1:
+        return None
+    return int(word)

@@ -1,0 +1,96 @@
+"""What several tests share."""
+
+import unittest
+
+from scaleborn.balances import Balance
+from scaleborn.books import Book
+from scaleborn.comparisons import Comparison, Pair
+from scaleborn.errors import BadText, ScaleError
+from scaleborn.papers import Paper
+from scaleborn.ratios import Ratio
+from scaleborn.sayings import Saying
+from scaleborn.scales import Scale
+from scaleborn.sorts import Sort
+
+
+class Stubborn:
+    """An object that lets nobody compare it, hash it, ask for its truth or write it."""
+
+    def __eq__(self, other):
+        raise AssertionError("was compared")
+
+    __hash__ = None
+
+    def __bool__(self):
+        raise AssertionError("was asked for its truth")
+
+    def __len__(self):
+        raise AssertionError("was measured")
+
+    def __str__(self):
+        raise AssertionError("was written")
+
+    def __repr__(self):
+        return "Stubborn()"
+
+
+# One value of each kind: tests leave out those that are right where they stand.
+BALANCE = Balance({"a": 1, "b": -1})
+COMPARISON = Comparison(BALANCE, ">")
+PAIR = Pair(BALANCE)
+SORT = Sort([PAIR])
+SCALE = Scale({"a": 1, "b": 0})
+BOOK = Book(["a", "b"], [COMPARISON])
+SAYING = Saying([("holds", COMPARISON)])
+ODD = (
+    None, True, False, 0, 1, -1, 2, 10 ** 70, 1.0, "", "a", "A", "1", "a b", b"a", [], (), {}, {"a"}, ["a"], ("a", "b"),
+    [1], {"a": 1}, {"a": "b"}, {1: "a"}, {"A": 1}, {"a": None}, object(), Stubborn(), Ratio, Ratio(1, 2), Ratio(1),
+    Paper("note"), BALANCE, COMPARISON, PAIR, SORT, SCALE, BOOK, SAYING, [BALANCE], [COMPARISON], [PAIR], [SAYING],
+    ["A"], ["a", 1], [None], [Stubborn()], {"a": Stubborn()})
+
+
+class Case(unittest.TestCase):
+    """A test case that knows how errors are told."""
+
+    def raises(self, error, fields, function, *told, **named):
+        """The call raises just this error with just these fields."""
+        with self.assertRaises(ScaleError) as caught:
+            function(*told, **named)
+        self.assertIs(type(caught.exception), error)
+        self.assertEqual(vars(caught.exception), fields)
+
+    def bad_text(self, read, text, word):
+        """The text is refused at this word."""
+        with self.assertRaises(BadText, msg=repr(text)) as caught:
+            read(text)
+        self.assertEqual((caught.exception.line, caught.exception.word), (0, word), text)
+
+    def refuses(self, error, part, call, right=()):
+        """The call raises this error for each odd value but those of the right kinds."""
+        for value in ODD:
+            if not any(is_right(value) for is_right in right):
+                with self.subTest(value=repr(value)[:80]):
+                    self.raises(error, {"part": part}, call, value)
+
+
+def is_a(*kinds):
+    """Whether a value is of these classes, truths being no integers."""
+    return lambda value: isinstance(value, kinds) and not (isinstance(value, bool) and bool not in kinds)
+
+
+def bent(text, more=()):
+    """The text with each word left out, doubled, exchanged, with words put in, and cut off."""
+    words = text.split(" ")
+    others = list(dict.fromkeys([*words, "", "?", "A", "7up", "01", "1", "0", "-1", *more]))
+    for at in range(len(words) + 1):
+        yield " ".join(words[:at])
+        for word in others:
+            yield " ".join([*words[:at], word, *words[at:]])
+            if at < len(words):
+                yield " ".join([*words[:at], word, *words[at + 1:]])
+        if at < len(words):
+            yield " ".join(words[:at] + words[at + 1:])
+            for to in range(at):
+                swapped = list(words)
+                swapped[at], swapped[to] = swapped[to], swapped[at]
+                yield " ".join(swapped)
