@@ -78,6 +78,11 @@ def is_a(*kinds):
     return lambda value: isinstance(value, kinds) and not (isinstance(value, bool) and bool not in kinds)
 
 
+def is_written(*texts):
+    """Whether a value is written in one of these ways; unlike `==` this asks no value for anything."""
+    return lambda value: repr(value) in texts
+
+
 def bent(text, more=()):
     """The text with each word left out, doubled, exchanged, with words put in, and cut off."""
     words = text.split(" ")
