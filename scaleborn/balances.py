@@ -18,14 +18,15 @@ class Balance:
         self._numbers = {thing: number for thing, number in told.items() if number.sign != 0}
         self.things = tuple(self._numbers)
         self.is_nothing = len(self.things) == 0
+        # A flat tuple of strings and integers that tells the balance, for keys of dicts.
+        self.key = tuple([word for thing, number in self._numbers.items()
+                          for word in (thing, number.top, number.bottom)])
 
     @classmethod
     def read(cls, text):
         """The balance with this text."""
         reader = reader_of(text)
-        if reader.peek() == "0":
-            reader.step()
-            reader.finish()
+        if reader.is_alone("0"):
             return cls({})
         numbers = {}
         last = _read_term(reader, numbers, "")
@@ -87,7 +88,7 @@ class Balance:
         return _times(self, other)
 
     def __eq__(self, other):
-        return isinstance(other, Balance) and key_of(self) == key_of(other)
+        return isinstance(other, Balance) and self.key == other.key
 
     def __str__(self):
         return str(_written(self))
@@ -150,15 +151,6 @@ def _read_term(reader, numbers, last):
     numbers[thing] = 1 if number is None else number
     reader.step()
     return thing
-
-
-def key_of(balance):
-    """A flat tuple of strings and integers that tells a balance."""
-    key = []
-    for thing in balance.things:
-        number = balance.number_of(thing)
-        key.extend([thing, number.top, number.bottom])
-    return tuple(key)
 
 
 def wholes_of(balance, things):

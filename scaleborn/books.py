@@ -36,9 +36,7 @@ class Book:
         reader = reader_of(text)
         things = _read_things(reader)
         reader.take("|")
-        if reader.peek() == "-":
-            reader.step()
-            reader.finish()
+        if reader.is_alone("-"):
             return cls(things)
         rows = [_read_row(reader, things)]
         while reader.peek() == "," and len(rows) < Book.MOST_ROWS:

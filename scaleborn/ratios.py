@@ -36,11 +36,7 @@ class Ratio:
     @staticmethod
     def of(value):
         """The Ratio of a ratio."""
-        if isinstance(value, Ratio):
-            return value
-        if is_integer(value):
-            return Ratio(value)
-        raise BadRatio("value")
+        return _ratio_of(value, "value")
 
     def compared(self, other):
         """-1, 0 or 1, as it is less than the other one, equal or greater."""
@@ -52,21 +48,21 @@ class Ratio:
 
     def over(self, other):
         """It divided by the other one."""
-        right = _right(other)
+        right = _ratio_of(other, "other")
         if right.sign == 0:
             raise BadRatio("other")
         return Ratio(self.top * right.bottom, self.bottom * right.top)
 
     def __add__(self, other):
-        right = _right(other)
+        right = _ratio_of(other, "other")
         return Ratio(self.top * right.bottom + right.top * self.bottom, self.bottom * right.bottom)
 
     def __sub__(self, other):
-        right = _right(other)
+        right = _ratio_of(other, "other")
         return Ratio(self.top * right.bottom - right.top * self.bottom, self.bottom * right.bottom)
 
     def __mul__(self, other):
-        right = _right(other)
+        right = _ratio_of(other, "other")
         return Ratio(self.top * right.top, self.bottom * right.bottom)
 
     def __neg__(self):
@@ -103,13 +99,13 @@ def added(*ratios):
     return total
 
 
-def _right(other):
-    """The ratio at the right of a sign."""
-    if isinstance(other, Ratio):
-        return other
-    if is_integer(other):
-        return Ratio(other)
-    raise BadRatio("other")
+def _ratio_of(value, part):
+    """The Ratio of a ratio, which any other value is not."""
+    if isinstance(value, Ratio):
+        return value
+    if is_integer(value):
+        return Ratio(value)
+    raise BadRatio(part)
 
 
 def _is_same(ratio, other):

@@ -44,6 +44,14 @@ class Reader:
         if self.at < self.end:
             self.refuse()
 
+    def is_alone(self, word):
+        """Whether this word stands here; then no other one can stand behind it."""
+        if self.peek() != word:
+            return False
+        self.step()
+        self.finish()
+        return True
+
     def window(self, word):
         """A reader of the words from here up to this word, or to the end."""
         end = self.at

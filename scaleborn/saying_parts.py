@@ -1,6 +1,5 @@
 """The parts of sayings: which ones are right, their one form, their truths."""
 
-from scaleborn.balances import key_of
 from scaleborn.checks import is_integer, is_list, is_within
 from scaleborn.comparisons import Comparison
 from scaleborn.errors import TooMany
@@ -74,12 +73,7 @@ def _with_numbers(part, numbers):
 
 def _part_key(part):
     """A flat tuple of strings and integers that tells a part."""
-    return ("holds", *comparison_key(part[1])) if part[0] == "holds" else part
-
-
-def comparison_key(comparison):
-    """A flat tuple of strings and integers that tells a comparison."""
-    return (comparison.kind, *key_of(comparison.balance))
+    return ("holds", part[1].kind, *part[1].balance.key) if part[0] == "holds" else part
 
 
 def different_pairs(comparisons):
@@ -89,7 +83,7 @@ def different_pairs(comparisons):
     turns = []
     for comparison in comparisons:
         pair = comparison.pair
-        number = places.setdefault(key_of(pair.balance), len(pairs))
+        number = places.setdefault(pair.balance.key, len(pairs))
         if number == len(pairs):
             pairs.append(pair)
         turns.append((number, 1 if pair.balance == comparison.balance else -1))
@@ -126,8 +120,7 @@ def laid_together(sayings_parts, head):
     lasts = []
     for told in sayings_parts:
         start = len(parts)
-        for part in told:
-            parts.append(_moved(part, start))
+        parts.extend([_moved(part, start) for part in told] if start > 0 else told)
         lasts.append(len(parts) - 1)
     return [*parts, (*head, *lasts)]
 

@@ -23,9 +23,7 @@ class Scale:
     def read(cls, text):
         """The scale with this text."""
         reader = reader_of(text)
-        if reader.peek() == "-":
-            reader.step()
-            reader.finish()
+        if reader.is_alone("-"):
             return cls({})
         worths = {}
         last = _read_worth(reader, worths, "")

@@ -1,8 +1,8 @@
 """Sorts: lists of different pairs."""
 
-from scaleborn.checks import is_list, is_within
+from scaleborn.checks import is_list, is_within, need_different
 from scaleborn.comparisons import Pair, read_pair
-from scaleborn.errors import BadNumber, BadPair, BadSort, TooMany, Twice
+from scaleborn.errors import BadNumber, BadPair, BadSort, TooMany
 from scaleborn.reading import reader_of
 
 MOST_PAIRS = 15
@@ -14,19 +14,19 @@ class Sort:
     def __init__(self, pairs):
         if not are_pairs(pairs):
             raise BadPair("pairs")
-        self._texts = _different([str(pair) for pair in pairs])
+        texts = [str(pair) for pair in pairs]
+        need_different(texts)
         if len(pairs) > MOST_PAIRS:
             raise TooMany("pairs", MOST_PAIRS)
         self.pairs = tuple(pairs)
+        self._texts = {text: True for text in texts}
         self.things = tuple(sorted(set([thing for pair in pairs for thing in pair.things])))
 
     @classmethod
     def read(cls, text):
         """The sort with this text."""
         reader = reader_of(text)
-        if reader.peek() == "-":
-            reader.step()
-            reader.finish()
+        if reader.is_alone("-"):
             return cls([])
         texts = {}
         pairs = [_read_new(reader, texts)]
@@ -66,16 +66,6 @@ class Sort:
 def are_pairs(value):
     """Whether any value is a list or a tuple of Pairs."""
     return is_list(value) and all([isinstance(item, Pair) for item in value])
-
-
-def _different(texts):
-    """A dict of the texts; Twice for one that stood ahead."""
-    stood = {}
-    for text in texts:
-        if text in stood:
-            raise Twice(text)
-        stood[text] = True
-    return stood
 
 
 def _are_different(numbers, many):
