@@ -18,7 +18,7 @@ class Book:
         if not are_names(things) or len(things) == 0:
             raise BadBook("things")
         need_different(things)
-        if not _are_rows(rows):
+        if not is_list(rows) or not all([isinstance(row, Comparison) for row in rows]):
             raise BadBook("rows")
         for row in rows:
             need_things(things, row.things)
@@ -38,10 +38,10 @@ class Book:
         reader.take("|")
         if reader.is_alone("-"):
             return cls(things)
-        rows = [_read_row(reader, things)]
+        rows = [read_comparison(reader, things)]
         while reader.peek() == "," and len(rows) < Book.MOST_ROWS:
             reader.step()
-            rows.append(_read_row(reader, things))
+            rows.append(read_comparison(reader, things))
         reader.finish()
         return cls(things, rows)
 
@@ -54,8 +54,6 @@ class Book:
 
     def with_rows(self, *rows):
         """The book with these rows behind its own."""
-        if not _are_rows(rows):
-            raise BadBook("rows")
         return Book(self.things, [*self.rows, *rows])
 
     def without(self, *numbers):
@@ -100,11 +98,6 @@ class Book:
         return str(_written(self))
 
 
-def _are_rows(rows):
-    """Whether any value is a list or a tuple of Comparisons."""
-    return is_list(rows) and all([isinstance(row, Comparison) for row in rows])
-
-
 def _together(things, others):
     """Each thing of both lists once."""
     return sorted(set([*things, *others]))
@@ -128,12 +121,3 @@ def _read_things(reader):
     if len(things) == 0:
         reader.refuse()
     return things
-
-
-def _read_row(reader, things):
-    """Read a row, from here up to a comma."""
-    window = reader.window(",")
-    row = read_comparison(window, things)
-    window.finish()
-    reader.at = window.at
-    return row

@@ -6,16 +6,16 @@ _MOST_DIGITS = 60
 
 
 class Reader:
-    """Words of a text, read from one place up to an end.
+    """The words of a text, read up to an end.
 
     A missing word is read as the empty word: neither can stand anywhere, and the place tells
     both apart.
     """
 
-    def __init__(self, words, at, end):
+    def __init__(self, words):
         self.words = words
-        self.at = at
-        self.end = end
+        self.at = 0
+        self.end = len(words)
 
     def peek(self):
         """The word that stands here."""
@@ -52,25 +52,17 @@ class Reader:
         self.finish()
         return True
 
-    def window(self, word):
-        """A reader of the words from here up to this word, or to the end."""
-        end = self.at
-        while end < self.end and self.words[end] != word:
-            end += 1
-        return Reader(self.words, self.at, end)
-
 
 def reader_of(text):
     """A reader of all words of a text."""
     if not isinstance(text, str):
         raise BadText(0, 0)
-    words = text.split(" ")
-    return Reader(words, 0, len(words))
+    return Reader(text.split(" "))
 
 
 def whole_in(word):
     """The integer from 0 on that the word writes, None for any other word."""
-    if not 1 <= len(word) <= _MOST_DIGITS or not word.isascii() or not word.isdigit():
+    if len(word) > _MOST_DIGITS or not word.isascii() or not word.isdigit():
         return None
     if word[0] == "0" and len(word) > 1:
         return None

@@ -3,8 +3,8 @@
 from scaleborn.balances import Balance
 from scaleborn.checks import are_names, is_name, is_within, need_different
 from scaleborn.comparisons import Pair
-from scaleborn.errors import BadBalance, BadNumber, TooMany, Unlike
-from scaleborn.sorts import MOST_PAIRS, Sort
+from scaleborn.errors import BadBalance, BadNumber, Unlike
+from scaleborn.sorts import Sort
 
 _MOST_COPIES = 4
 
@@ -88,9 +88,7 @@ def _sort_of(balances):
     """The sort of the pairs of the balances that are not nothing, ascending by their texts."""
     pairs = {}
     for balance in balances:
-        if not balance.is_nothing and len(pairs) <= MOST_PAIRS:
+        if not balance.is_nothing:
             pair = Pair(balance)
             pairs[str(pair)] = pair
-    if len(pairs) > MOST_PAIRS:
-        raise TooMany("pairs", MOST_PAIRS)
     return Sort([pairs[text] for text in sorted(list(pairs))])

@@ -4,7 +4,7 @@ from scaleborn.checks import is_integer, is_list, is_within
 from scaleborn.comparisons import Comparison
 from scaleborn.errors import TooMany
 
-MOST_PARTS = 2000
+_MOST_PARTS = 2000
 
 
 def are_parts(value):
@@ -47,19 +47,19 @@ def formed(parts):
     # The walk keeps its own stack: each part may stand over the one ahead of it.
     stack = [len(parts) - 1]
     while len(stack) > 0:
-        at = stack[-1]
-        waiting = [] if at in numbers else [number for number in borne(parts[at]) if number not in numbers]
+        at = stack.pop()
+        if at in numbers:
+            continue
+        waiting = [number for number in borne(parts[at]) if number not in numbers]
         if len(waiting) > 0:
-            stack.extend(waiting[::-1])
-        else:
-            stack.pop()
-            if at not in numbers:
-                part = _with_numbers(parts[at], numbers)
-                numbers[at] = places.setdefault(_part_key(part), len(put))
-                if numbers[at] == len(put):
-                    put.append(part)
-        if len(put) > MOST_PARTS:
-            raise TooMany("parts", MOST_PARTS)
+            stack.extend([at, *waiting[::-1]])
+            continue
+        part = _with_numbers(parts[at], numbers)
+        numbers[at] = places.setdefault(_part_key(part), len(put))
+        if numbers[at] == len(put):
+            put.append(part)
+        if len(put) > _MOST_PARTS:
+            raise TooMany("parts", _MOST_PARTS)
     return tuple(put)
 
 

@@ -5,14 +5,14 @@ from scaleborn.errors import TooMany
 from scaleborn.reading import reader_of, whole_in
 from scaleborn.saying_parts import borne
 
-MOST_WORDS = 4000
+_MOST_WORDS = 4000
 _MOST_OPEN = 60
 
 
 def written(parts):
     """The text of a saying with these parts."""
-    if _count_words(parts) > MOST_WORDS:
-        raise TooMany("words", MOST_WORDS)
+    if _count_words(parts) > _MOST_WORDS:
+        raise TooMany("words", _MOST_WORDS)
     texts = []
     for part in parts:
         texts.append(_part_text(part, [texts[number] for number in borne(part)]))
@@ -40,7 +40,7 @@ def read_parts(text):
     """The parts of the saying with this text."""
     reader = reader_of(text)
     many = reader.end
-    reader.end = min(many, MOST_WORDS)
+    reader.end = min(many, _MOST_WORDS)
     # A frame is a part that is still open. The first one is that of the whole text.
     parts, frames = [], [["whole"]]
     while len(frames[0]) == 1:
@@ -51,7 +51,8 @@ def read_parts(text):
             _put(parts, tuple(frame), frames[-1])
         elif word == "[" and _may_begin(frames):
             reader.step()
-            _put(parts, ("holds", _read_inside(reader)), frame)
+            _put(parts, ("holds", read_comparison(reader, None)), frame)
+            reader.take("]")
         elif word == "(" and _may_begin(frames):
             reader.step()
             frames.append(_read_head(reader))
@@ -77,16 +78,6 @@ def _may_begin(frames):
     """Whether a part can begin here."""
     frame = frames[-1]
     return len(frames) <= _MOST_OPEN and (frame[0] in ("and", "or", "some") or len(frame) == 1)
-
-
-def _read_inside(reader):
-    """Read a comparison and the bracket behind it."""
-    window = reader.window("]")
-    comparison = read_comparison(window, None)
-    window.finish()
-    reader.at = window.at
-    reader.take("]")
-    return comparison
 
 
 def _read_head(reader):

@@ -5,7 +5,7 @@ from scaleborn.comparisons import Pair, read_pair
 from scaleborn.errors import BadNumber, BadPair, BadSort, TooMany
 from scaleborn.reading import reader_of
 
-MOST_PAIRS = 15
+_MOST_PAIRS = 15
 
 
 class Sort:
@@ -16,8 +16,8 @@ class Sort:
             raise BadPair("pairs")
         texts = [str(pair) for pair in pairs]
         need_different(texts)
-        if len(pairs) > MOST_PAIRS:
-            raise TooMany("pairs", MOST_PAIRS)
+        if len(pairs) > _MOST_PAIRS:
+            raise TooMany("pairs", _MOST_PAIRS)
         self.pairs = tuple(pairs)
         self._texts = {text: True for text in texts}
         self.things = tuple(sorted(set([thing for pair in pairs for thing in pair.things])))
@@ -30,7 +30,7 @@ class Sort:
             return cls([])
         texts = {}
         pairs = [_read_new(reader, texts)]
-        while reader.peek() == "," and len(pairs) < MOST_PAIRS:
+        while reader.peek() == "," and len(pairs) < _MOST_PAIRS:
             reader.step()
             pairs.append(_read_new(reader, texts))
         reader.finish()

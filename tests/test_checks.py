@@ -47,7 +47,8 @@ class Checks(Case):
 
     def test_names_above(self):
         for name, above in (("", "a"), ("a", "a0"), ("zzzzzzzzzzz", "zzzzzzzzzzz0"), ("a00000000000", "a00000000001"),
-                            ("a00000000009", "a0000000000a"), ("a0000000000z", "a0000000001"), ("azzzzzzzzzzz", "b"),
+                            ("a00000000009", "a0000000000a"), ("a0000000000q", "a0000000000r"),
+                            ("a0000000000z", "a0000000001"), ("azzzzzzzzzzz", "b"),
                             ("zzzzzzzzzzzz", None)):
             self.assertEqual(name_above(name), above)
         self.assertEqual(free_name("a", {"a0": 1, "a00": 1}), "a000")

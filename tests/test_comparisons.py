@@ -67,6 +67,7 @@ class Comparisons(Case):
         self.refuses(BadBalance, "balance", Pair, [is_a(Balance)])
         self.raises(BadPair, {"part": "balance"}, Pair, NOTHING)
         self.refuses(BadNumber, "outcome", PAIR.as_rows, [lambda value: type(value) is int and abs(value) < 2])
+        self.raises(BadNumber, {"part": "outcome"}, PAIR.as_rows, -2)
 
     def test_contraries(self):
         for text, told in (("a > b", ["b >= a"]), ("a >= b", ["b > a"]), ("a = b", ["a > b", "b > a"]),

@@ -77,6 +77,7 @@ class ReadySorts(Case):
                 self.agree(gap_texts(things[:5]), gaps_of, things[:5])
                 self.agree(heap_texts(things[:5]), heaps_of, things[:5])
         self.assertEqual(str(order_of(things=[])), "-")
+        self.assertEqual(str(order_of(("b", "a"))), "a : b")
         self.assertEqual(str(heaps_of([])), "-")
         self.assertEqual(str(gaps_of(["a"])), "-")
         self.assertEqual(str(order_of(["a"], True)), "a : 0")

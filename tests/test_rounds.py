@@ -226,6 +226,15 @@ class ShowsFit(Case):
         self.assertIs(shows_fit(book, Fits(Scale({"a": 7}))), True)
         self.assertIs(shows_fit(Book.read("a | a >= 0 , 0 >= a"), Round([1, 1])), False)
 
+    def test_weights_below_nothing(self):
+        """They add up, but only a row = may have a weight below 0."""
+        for text, weights, shown in (
+                ("a | a > 0 , a > 0", (1, -1), False), ("a | a > 0 , a > 0", (-1, 1), False),
+                ("a | a > 0 , a >= 0", (1, -1), False), ("a | a >= 0 , a > 0", (-1, 1), False),
+                ("a | a > 0 , a = 0", (1, -1), True), ("a | a > 0 , a >= 0 , 0 > a", (2, -1, 1), False),
+                ("a | a > 0 , a >= 0 , 0 > a", (1, 0, 1), True), ("a | a > 0 , a = 0 , 0 > a", (1, 1, 2), True)):
+            self.assertIs(shows_fit(Book.read(text), Round(weights)), shown, text)
+
 
 if __name__ == "__main__":
     unittest.main()

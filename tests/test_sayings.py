@@ -162,6 +162,7 @@ class Sayings(Case):
             if not isinstance(value, Scale):
                 self.raises(BadScale, {"part": "scale"}, SAYING.holds, value)
         self.raises(NoThing, {"name": "b"}, said("c > a + b").holds, Scale.read("a 1 d 1"))
+        self.raises(NoThing, {"name": "b"}, both_of([said("a > y"), said("a > b")]).holds, Scale.read("a 1 d 1"))
         self.assertIs(yes().holds(Scale({})), True)
         self.assertIs(said("a > b").holds(scale=Scale.read("a 1 b 0 z 5")), True)
 
