@@ -1,0 +1,114 @@
+"""[2]: what holds for all modules: names of arguments, lists and tuples, what is returned, equal answers."""
+
+import inspect
+import unittest
+
+from scaleborn import (
+    balances, books, check_rounds, checks, comparisons, errors, hulls, papers, ratios, ready_sayings, ready_sorts, rounds,
+    sayings, scales, sorts)
+from scaleborn.balances import Balance
+from scaleborn.books import Book
+from scaleborn.comparisons import Comparison, Pair
+from scaleborn.hulls import alikes, open_scales
+from scaleborn.ratios import Ratio
+from scaleborn.rounds import Round, fit
+from scaleborn.sayings import Saying
+from scaleborn.scales import Scale
+from scaleborn.sorts import Sort
+from support import BOOK, COMPARISON, PAIR, SAYING, SCALE, SORT
+
+# The names of the arguments of functions and classes, as the interface tells them.
+ARGUMENTS = {
+    checks: {"is_integer": "value", "is_within": "value least most", "is_name": "value", "are_names": "value"},
+    ratios: {"Ratio": "top bottom=", "is_ratio": "value", "added": "*ratios", "Ratio.read": "text", "Ratio.of": "value",
+             "Ratio.compared": "self other", "Ratio.is_below": "self other", "Ratio.over": "self other"},
+    papers: {"fixed": "value", "Paper": "word *parts", "Denial": "word *parts"},
+    balances: {"Balance": "numbers", "Balance.of": "*things", "Balance.read": "text", "Balance.number_of": "self thing",
+               "Balance.gains": "self", "Balance.losses": "self", "Balance.least": "self", "Balance.renamed": "self names",
+               "mean_of": "things"},
+    comparisons: {"Comparison": "balance kind", "Comparison.read": "text", "Comparison.contraries": "self",
+                  "Pair": "balance", "Pair.read": "text", "Pair.as_rows": "self outcome", "compared": "one kind other"},
+    sorts: {"Sort": "pairs", "Sort.read": "text", "Sort.only": "self numbers"},
+    ready_sorts: {"order_of": "things nothing=", "gaps_of": "things", "heaps_of": "things", "copies_of": "one other most",
+                  "cells_of": "ones others"},
+    scales: {"Scale": "numbers", "Scale.read": "text", "Scale.worth": "self balance", "Scale.outcome": "self pair",
+             "Scale.keeps": "self comparison", "Scale.outcomes": "self pairs", "Scale.only": "self things"},
+    books: {"Book": "things rows=", "Book.read": "text", "Book.keeps": "self scale", "Book.with_rows": "self *rows",
+            "Book.without": "self *numbers", "Book.joined": "self other", "Book.with_things": "self *things",
+            "Book.above_nothing": "self", "Book.renamed": "self names"},
+    rounds: {"Fits": "scale", "Round": "weights", "fit": "book", "is_possible": "book"},
+    hulls: {"alikes": "book", "swept": "book balance", "is_held_alike": "book balance", "are_one": "book one other",
+            "Opened": "more less", "Shut": "outcome weights", "open_scales": "book pair", "is_open": "book pair"},
+    check_rounds: {"shows_fit": "book value", "shows_open": "book pair value"},
+    sayings: {"Saying": "parts", "Saying.read": "text", "Saying.holds": "self scale", "Saying.truth_by": "self outcomes",
+              "Saying.renamed": "self names", "yes": "", "no": "", "of_comparison": "comparison", "both_of": "sayings",
+              "either_of": "sayings", "at_least": "number sayings", "exactly": "number sayings"},
+    ready_sayings: {"says_more": "one kind other", "means": "ones kind others", "middle_is": "things kind other",
+                    "greatest_is": "thing things", "sole_greatest": "thing things", "rank_is": "thing things rank",
+                    "lies_between": "thing one other", "more_even": "one other third fourth",
+                    "is_times": "one ratio other kind="}}
+
+
+def written(parameter):
+    star = "*" if parameter.kind is inspect.Parameter.VAR_POSITIONAL else ""
+    return star + parameter.name + ("" if parameter.default is inspect.Parameter.empty else "=")
+
+
+class General(unittest.TestCase):
+    def test_names_of_arguments(self):
+        for module, told in ARGUMENTS.items():
+            for name, arguments in told.items():
+                found = module
+                for word in name.split("."):
+                    found = getattr(found, word)
+                names = [written(parameter) for parameter in inspect.signature(found).parameters.values()]
+                self.assertEqual(" ".join(names), arguments, name)
+
+    def test_static_and_class_methods(self):
+        for made in (Ratio, Balance):
+            self.assertIsInstance(inspect.getattr_static(made, "of"), staticmethod)
+        for made in (Ratio, Balance, Comparison, Pair, Sort, Scale, Book, Saying):
+            self.assertIsInstance(inspect.getattr_static(made, "read"), classmethod)
+
+    def test_tuples_are_returned(self):
+        rim = Book.read("a b | a >= b , b >= a")
+        for value in (
+                Balance.of("a").things, COMPARISON.things, COMPARISON.contraries(), PAIR.things, SORT.pairs, SORT.things,
+                SCALE.things, SCALE.outcomes([PAIR]), BOOK.things, BOOK.rows, SAYING.parts, SAYING.comparisons, SAYING.pairs,
+                SAYING.things, alikes(rim), alikes(BOOK), fit(Book.read("a | a > 0 , 0 > a")).weights, Round([1]).parts,
+                open_scales(rim, PAIR).weights):
+            self.assertIs(type(value), tuple)
+
+    def test_lists_and_tuples_for_one_another(self):
+        self.assertEqual(Book(("a", "b"), (COMPARISON,)), BOOK)
+        self.assertEqual(Sort((PAIR,)), SORT)
+        self.assertEqual(Saying((["holds", COMPARISON],)), SAYING)
+        self.assertEqual(SCALE.outcomes((PAIR,)), SCALE.outcomes([PAIR]))
+        self.assertEqual(Round([1, 2]), Round((1, 2)))
+        self.assertEqual(sayings.both_of((SAYING, SAYING)), sayings.both_of([SAYING, SAYING]))
+        self.assertEqual(ready_sorts.order_of(("a", "b")), ready_sorts.order_of(["a", "b"]))
+
+    def test_equal_arguments_equal_answers(self):
+        for text in ("a b c | a > b , b >= c", "a b | a > b , b > a , a = 0", "a b c d | a + b > c + d , c > a , d >= b"):
+            first, second = [Book.read(text) for _ in range(2)]
+            self.assertEqual(fit(first), fit(Book(list(second.things)[::-1], list(second.rows))))
+        self.assertEqual(open_scales(BOOK, PAIR), open_scales(Book.read(str(BOOK)), Pair.read("a : b")))
+
+    def test_values_are_equal_to_none_of_another_class(self):
+        values = [Ratio(1, 2), Balance.of("a"), COMPARISON, PAIR, SORT, SCALE, BOOK, SAYING, Round([1])]
+        for at, one in enumerate(values):
+            for other_at, other in enumerate(values):
+                self.assertIs(one == other, at == other_at)
+                self.assertIs(one != other, at != other_at)
+
+    def test_a_call_that_raises_changes_nothing(self):
+        texts = [str(value) for value in (COMPARISON, PAIR, SORT, SCALE, BOOK, SAYING)]
+        for call in (lambda: SORT + None, lambda: SORT.only([5]), lambda: SCALE * None, lambda: BOOK.with_rows(None),
+                     lambda: BOOK.without(9), lambda: BOOK.with_things("c", "d", "e", "f", "g"), lambda: SAYING & None,
+                     lambda: SAYING.renamed(None), lambda: SCALE.only(["z"])):
+            self.assertRaises(errors.ScaleError, call)
+        self.assertEqual([str(value) for value in (COMPARISON, PAIR, SORT, SCALE, BOOK, SAYING)], texts)
+
+
+if __name__ == "__main__":
+    unittest.main()
