@@ -35,17 +35,21 @@ def is_scale_of(book, value):
 
 def are_weights(things, rows, value):
     """Whether any value is the weights of a round of these rows, of which there may be many."""
-    if not isinstance(value, tuple) or len(value) != len(rows):
+    return are_weights_of([wholes_of(row.balance, things) for row in rows], [row.kind for row in rows], value)
+
+
+def are_weights_of(wholes, kinds, value):
+    """Whether any value is the weights of a round of rows that are told as lists of integers and kinds."""
+    if not isinstance(value, tuple) or len(value) != len(wholes):
         return False
     if not all([is_integer(weight) for weight in value]):
         return False
-    if not all([weight >= 0 or row.kind == "=" for weight, row in zip(value, rows)]):
+    if not all([weight >= 0 or kind == "=" for weight, kind in zip(value, kinds)]):
         return False
-    if not any([weight > 0 and row.kind == ">" for weight, row in zip(value, rows)]):
+    if not any([weight > 0 and kind == ">" for weight, kind in zip(value, kinds)]):
         return False
-    columns = [[weight * number for number in wholes_of(row.balance, things)]
-               for weight, row in zip(value, rows)]
-    return all([sum([column[at] for column in columns]) == 0 for at in range(len(things))])
+    columns = [[weight * number for number in whole] for weight, whole in zip(value, wholes)]
+    return not any([sum(numbers) for numbers in zip(*columns)])
 
 
 def _has_outcome(book, pair, value, outcome):

@@ -54,8 +54,8 @@ def formed(parts):
         if len(waiting) > 0:
             stack.extend([at, *waiting[::-1]])
             continue
-        part = _with_numbers(parts[at], numbers)
-        numbers[at] = places.setdefault(_part_key(part), len(put))
+        part = with_numbers(parts[at], numbers)
+        numbers[at] = places.setdefault(part_key(part), len(put))
         if numbers[at] == len(put):
             put.append(part)
         if len(put) > _MOST_PARTS:
@@ -63,7 +63,7 @@ def formed(parts):
     return tuple(put)
 
 
-def _with_numbers(part, numbers):
+def with_numbers(part, numbers):
     """The part with the new numbers of the parts that it bears."""
     if part[0] == "holds":
         return ("holds", part[1])
@@ -71,7 +71,7 @@ def _with_numbers(part, numbers):
     return (*head, *[numbers[number] for number in borne(part)])
 
 
-def _part_key(part):
+def part_key(part):
     """A flat tuple of strings and integers that tells a part."""
     return ("holds", part[1].kind, *part[1].balance.key) if part[0] == "holds" else part
 
@@ -92,26 +92,55 @@ def different_pairs(comparisons):
 
 def truth_of(parts, kept):
     """Whether the last part holds where these of the comparisons are kept, told in their order."""
-    truths = []
+    masks = []
     comparisons = 0
     for part in parts:
         if part[0] == "holds":
-            truths.append(kept[comparisons])
+            masks.append(1 if kept[comparisons] else 0)
             comparisons += 1
         else:
-            truths.append(_truth(part, [truths[number] for number in borne(part)]))
-    return truths[-1]
+            masks.append(mask_of(part, masks, 1))
+    return masks[-1] == 1
 
 
-def _truth(part, truths):
-    """Whether a part holds, by the truths of the parts that it bears."""
+def mask_of(part, masks, everywhere):
+    """Where a part holds, by where the parts ahead do: each mask has a bit for each place.
+
+    Everywhere is the mask of all places.
+    """
+    told = [masks[number] for number in borne(part)]
     if part[0] == "not":
-        return not truths[0]
-    if part[0] == "and":
-        return all(truths)
-    if part[0] == "or":
-        return any(truths)
-    return len([truth for truth in truths if truth]) >= part[1]
+        return everywhere ^ told[0]
+    if part[0] == "some":
+        return _where_some(part[1], told, everywhere)
+    held = everywhere if part[0] == "and" else 0
+    for mask in told:
+        held = held & mask if part[0] == "and" else held | mask
+    return held
+
+
+def _where_some(least, masks, everywhere):
+    """Where at least so many of the masks have their bits."""
+    # The bits of how many there are at each place, the lowest ones first.
+    counter = []
+    for mask in masks:
+        carry = mask
+        for at in range(len(counter)):
+            old = counter[at]
+            counter[at] = old ^ carry
+            carry = old & carry
+        if carry != 0:
+            counter.append(carry)
+    if least.bit_length() > len(counter):
+        return 0
+    above, equal = 0, everywhere
+    for at in reversed(range(len(counter))):
+        if least >> at & 1 == 1:
+            equal = equal & counter[at]
+        else:
+            above = above | equal & counter[at]
+            equal = equal & (everywhere ^ counter[at])
+    return above | equal
 
 
 def laid_together(sayings_parts, head):

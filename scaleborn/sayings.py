@@ -31,7 +31,7 @@ class Saying:
         if not isinstance(scale, Scale):
             raise BadScale("scale")
         need_things(scale.things, self.things)
-        return self._truth([scale.outcome(pair) for pair in self.pairs])
+        return self.truth_at([scale.outcome(pair) for pair in self.pairs])
 
     def truth_by(self, outcomes):
         """Whether it holds where its pairs have these outcomes, told by their texts."""
@@ -41,7 +41,7 @@ class Saying:
         for text in texts:
             if text not in outcomes:
                 raise NoPair(text)
-        return self._truth([outcomes[text] for text in texts])
+        return self.truth_at([outcomes[text] for text in texts])
 
     def renamed(self, names):
         """The saying with its things under other names, perhaps several under one."""
@@ -49,7 +49,7 @@ class Saying:
             raise BadSaying("names")
         return Saying([renamed_part(part, names) for part in self.parts])
 
-    def _truth(self, outcomes):
+    def truth_at(self, outcomes):
         """Whether it holds where its pairs, in their order, have these outcomes."""
         kept = [is_kept(comparison.kind, outcomes[number] * turn)
                 for comparison, (number, turn) in zip(self.comparisons, self._turns)]

@@ -68,6 +68,16 @@ def are_pairs(value):
     return is_list(value) and all([isinstance(item, Pair) for item in value])
 
 
+def told_pairs(value):
+    """The tuple of the pairs of a sort, or of a list of different pairs."""
+    if isinstance(value, Sort):
+        return value.pairs
+    if not are_pairs(value):
+        raise BadPair("pairs")
+    need_different([str(pair) for pair in value])
+    return tuple(value)
+
+
 def _are_different(numbers, many):
     """Whether any value is a list of different integers from 0 to below many."""
     if not is_list(numbers) or not all([is_within(number, 0, many - 1) for number in numbers]):

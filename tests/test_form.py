@@ -31,7 +31,7 @@ STATEMENTS = (
 EXPRESSIONS = (
     ast.BoolOp, ast.BinOp, ast.UnaryOp, ast.IfExp, ast.Dict, ast.ListComp, ast.DictComp, ast.Compare, ast.Call,
     ast.JoinedStr, ast.FormattedValue, ast.Constant, ast.Attribute, ast.Subscript, ast.Starred, ast.Name, ast.List,
-    ast.Tuple, ast.Slice)
+    ast.Tuple, ast.Slice, ast.Yield)
 
 INTERFACE = {
     "errors": {name: [] for name in (
@@ -69,6 +69,17 @@ INTERFACE = {
     "ready_sayings": {
         "says_more": 3, "means": 3, "middle_is": 3, "greatest_is": 2, "sole_greatest": 2, "rank_is": 3,
         "lies_between": 3, "more_even": 4, "is_times": 4},
+    "charts": {
+        "Chart": "__init__ __len__ number_of has scale_at list_of outcomes_of cut agreeing truths".split(), "charted": 2},
+    "check_charts": {"shows_chart": 3},
+    "verdicts": {
+        "Always": ["__init__"], "Never": ["__init__"], "Hangs": ["__init__"], "judged": 2, "judged_by": 2, "truth_in": 2,
+        "follows": 3, "are_same": 3, "needed_rows": 2},
+    "struck": {"worked_out": 1, "put_to": 3, "struck": 2},
+    "check_verdicts": {"shows_judged": 3, "shows_follows": 4},
+    "orders": {"weak_orders": 1, "order_at": 1, "order_outcomes": 1, "order_rows": 2},
+    "order_sums": {"class_sums": 2, "sure_by_order": 3},
+    "heaps": {"Matching": ["__init__"], "Short": ["__init__"], "heap_matched": 3, "shows_matched": 4},
 }
 
 
@@ -270,7 +281,7 @@ class Signs(unittest.TestCase):
                 if isinstance(node, ast.Compare):
                     for sign, right in zip(node.ops, node.comparators):
                         if isinstance(sign, (ast.Is, ast.IsNot)):
-                            is_class = isinstance(node.left, ast.Call) and node.left.func.id == "type"
+                            is_class = isinstance(node.left, ast.Call) and getattr(node.left.func, "id", "") == "type"
                             is_none = isinstance(right, ast.Constant) and right.value is None
                             self.assertTrue(is_class or is_none, (name, node.lineno))
 
@@ -312,7 +323,7 @@ class Signs(unittest.TestCase):
                     self.assertIn(node, good, (name, node.lineno))
 
     def test_sets_zips_and_views_are_used_at_once(self):
-        views = {"zip", "enumerate", "range", "items", "values", "keys", "set"}
+        views = {"zip", "enumerate", "range", "items", "values", "keys", "set", "reversed"}
         for name, (_, tree) in FILES.items():
             good = []
             for node in ast.walk(tree):
@@ -321,11 +332,34 @@ class Signs(unittest.TestCase):
                 if isinstance(node, ast.Call) and isinstance(node.func, ast.Name):
                     if node.func.id in {"sorted", "list", "tuple", "dict", "sum", "any", "all", "len"}:
                         good.extend(node.args)
+                    if node.func.id == "reversed":
+                        good.extend([part for part in node.args if getattr(part.func, "id", "") == "range"])
+            for function in functions_of(tree):
+                good.extend(self.stored_sets(function))
             for node in ast.walk(tree):
                 if isinstance(node, ast.Call):
                     word = node.func.id if isinstance(node.func, ast.Name) else node.func.attr
                     if word in views:
                         self.assertIn(node, good, (name, node.lineno))
+
+    def stored_sets(self, function):
+        """The sets that a function keeps in a variable, which it only measures, sorts, adds to and asks."""
+        kept = [node for node in ast.walk(function) if isinstance(node, ast.Assign) and (
+            isinstance(node.value, ast.SetComp) or
+            isinstance(node.value, ast.Call) and getattr(node.value.func, "id", "") == "set")]
+        for node in kept:
+            told = node.targets[0].id
+            good = []
+            for other in ast.walk(function):
+                if isinstance(other, ast.Call) and getattr(other.func, "id", "") in ("len", "sorted"):
+                    good.append(other.args[0])
+                if isinstance(other, ast.Attribute) and other.attr in ("add", "discard"):
+                    good.append(other.value)
+                if isinstance(other, ast.Compare) and isinstance(other.ops[0], (ast.In, ast.NotIn)):
+                    good.append(other.comparators[0])
+            uses = [other for other in ast.walk(function) if isinstance(other, ast.Name) and other.id == told]
+            self.assertEqual([other for other in uses if other not in good], [node.targets[0]], (function.name, told))
+        return [node.value for node in kept]
 
 
 class Operators(unittest.TestCase):

@@ -4,8 +4,8 @@ import inspect
 import unittest
 
 from scaleborn import (
-    balances, books, check_rounds, checks, comparisons, errors, hulls, papers, ratios, ready_sayings, ready_sorts, rounds,
-    sayings, scales, sorts)
+    balances, books, charts, check_charts, check_rounds, check_verdicts, checks, comparisons, errors, heaps, hulls,
+    order_sums, orders, papers, ratios, ready_sayings, ready_sorts, rounds, sayings, scales, sorts, struck, verdicts)
 from scaleborn.balances import Balance
 from scaleborn.books import Book
 from scaleborn.comparisons import Comparison, Pair
@@ -46,7 +46,21 @@ ARGUMENTS = {
     ready_sayings: {"says_more": "one kind other", "means": "ones kind others", "middle_is": "things kind other",
                     "greatest_is": "thing things", "sole_greatest": "thing things", "rank_is": "thing things rank",
                     "lies_between": "thing one other", "more_even": "one other third fourth",
-                    "is_times": "one ratio other kind="}}
+                    "is_times": "one ratio other kind="},
+    charts: {"Chart": "pairs lists scales tree", "Chart.number_of": "self outcomes", "Chart.has": "self outcomes",
+             "Chart.scale_at": "self number", "Chart.list_of": "self scale", "Chart.outcomes_of": "self pair",
+             "Chart.cut": "self pairs", "Chart.agreeing": "self pairs", "Chart.truths": "self saying",
+             "charted": "book pairs"},
+    check_charts: {"shows_chart": "book pairs value"},
+    verdicts: {"Always": "chart", "Never": "chart", "Hangs": "kept broken", "judged": "book saying",
+               "judged_by": "chart saying", "truth_in": "book saying", "follows": "book one other",
+               "are_same": "book one other", "needed_rows": "book saying"},
+    struck: {"worked_out": "saying", "put_to": "saying number truth", "struck": "book saying"},
+    check_verdicts: {"shows_judged": "book saying value", "shows_follows": "book one other value"},
+    orders: {"weak_orders": "things", "order_at": "scale", "order_outcomes": "order", "order_rows": "order nothing="},
+    order_sums: {"class_sums": "order balance", "sure_by_order": "order comparison nothing="},
+    heaps: {"Matching": "pairs", "Short": "number", "heap_matched": "order ones others",
+            "shows_matched": "order ones others value"}}
 
 
 def written(parameter):
