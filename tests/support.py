@@ -4,6 +4,7 @@ import unittest
 
 from scaleborn.balances import Balance
 from scaleborn.books import Book
+from scaleborn.charts import Chart
 from scaleborn.comparisons import Comparison, Pair
 from scaleborn.errors import BadText, ScaleError
 from scaleborn.papers import Paper
@@ -42,10 +43,11 @@ SORT = Sort([PAIR])
 SCALE = Scale({"a": 1, "b": 0})
 BOOK = Book(["a", "b"], [COMPARISON])
 SAYING = Saying([("holds", COMPARISON)])
+CHART = Chart([PAIR], [(1,)], [SCALE], ("branch", ("list", 0), ("barred", (1, -1)), ("barred", (1, 1))))
 ODD = (
     None, True, False, 0, 1, -1, 2, 10 ** 70, 1.0, "", "a", "A", "1", "a b", b"a", [], (), {}, {"a"}, ["a"], ("a", "b"),
     [1], {"a": 1}, {"a": "b"}, {1: "a"}, {"A": 1}, {"a": None}, object(), Stubborn(), Ratio, Ratio(1, 2), Ratio(1),
-    Paper("note"), BALANCE, COMPARISON, PAIR, SORT, SCALE, BOOK, SAYING, [BALANCE], [COMPARISON], [PAIR], [SAYING],
+    Paper("note"), BALANCE, COMPARISON, PAIR, SORT, SCALE, BOOK, SAYING, CHART, [BALANCE], [COMPARISON], [PAIR], [SAYING],
     ["A"], ["a", 1], [None], [Stubborn()], {"a": Stubborn()})
 
 
@@ -81,6 +83,21 @@ def is_a(*kinds):
 def is_written(*texts):
     """Whether a value is written in one of these ways; unlike `==` this asks no value for anything."""
     return lambda value: repr(value) in texts
+
+
+def bent_all_through(value, others=(None, True, 0, 1, -1, 2, "list", (), (0,))):
+    """The nested tuple with one item, at any depth, left out, doubled, exchanged with the next one or replaced."""
+    for other in others:
+        yield other
+    if isinstance(value, tuple):
+        for at, item in enumerate(value):
+            yield (*value[:at], *value[at + 1:])
+            yield (*value[:at], item, *value[at:])
+            if at + 1 < len(value):
+                yield (*value[:at], value[at + 1], item, *value[at + 2:])
+            for bend in bent_all_through(item, others):
+                yield (*value[:at], bend, *value[at + 1:])
+        yield (*value, 0)
 
 
 def bent(text, more=()):
