@@ -80,6 +80,14 @@ INTERFACE = {
     "orders": {"weak_orders": 1, "order_at": 1, "order_outcomes": 1, "order_rows": 2},
     "order_sums": {"class_sums": 2, "sure_by_order": 3},
     "heaps": {"Matching": ["__init__"], "Short": ["__init__"], "heap_matched": 3, "shows_matched": 4},
+    "fractions": {"fractions_to": 1, "neighbours_of": 2, "place_at": 4, "places_in": 4},
+    "wordings": {"Wordings": ["__init__"], "wordings": 3, "wordings_in": 3},
+    "carried": {"Carried": ["__init__"], "Divided": ["__init__"], "carried_by": 3},
+    "told_wordings": {"wording_of": 3},
+    "check_wordings": {"shows_wordings": 4, "shows_carried": 4},
+    "facets": {"Facet": ["__init__"], "live_pairs": 2, "facets": 2},
+    "whole": {"Whole": ["__init__"], "Ragged": ["__init__"], "whole_in": 2},
+    "coarsest": {"Coarsest": ["__init__"], "TwoLeast": ["__init__"], "least_sort": 3, "coarsest": 2},
 }
 
 

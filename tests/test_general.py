@@ -4,8 +4,9 @@ import inspect
 import unittest
 
 from scaleborn import (
-    balances, books, charts, check_charts, check_rounds, check_verdicts, checks, comparisons, errors, heaps, hulls,
-    order_sums, orders, papers, ratios, ready_sayings, ready_sorts, rounds, sayings, scales, sorts, struck, verdicts)
+    balances, books, carried, charts, check_charts, check_rounds, check_verdicts, check_wordings, checks, coarsest,
+    comparisons, errors, facets, fractions, heaps, hulls, order_sums, orders, papers, ratios, ready_sayings, ready_sorts,
+    rounds, sayings, scales, sorts, struck, told_wordings, verdicts, whole, wordings)
 from scaleborn.balances import Balance
 from scaleborn.books import Book
 from scaleborn.comparisons import Comparison, Pair
@@ -60,7 +61,17 @@ ARGUMENTS = {
     orders: {"weak_orders": "things", "order_at": "scale", "order_outcomes": "order", "order_rows": "order nothing="},
     order_sums: {"class_sums": "order balance", "sure_by_order": "order comparison nothing="},
     heaps: {"Matching": "pairs", "Short": "number", "heap_matched": "order ones others",
-            "shows_matched": "order ones others value"}}
+            "shows_matched": "order ones others value"},
+    fractions: {"fractions_to": "most", "neighbours_of": "ratio most", "place_at": "scale one other most",
+                "places_in": "book one other most"},
+    wordings: {"Wordings": "outer inner chart", "wordings": "book saying by", "wordings_in": "chart saying by"},
+    carried: {"Carried": "wording chart", "Divided": "one other", "carried_by": "book saying by"},
+    told_wordings: {"wording_of": "book by fulls"},
+    check_wordings: {"shows_wordings": "book saying by value", "shows_carried": "book saying by value"},
+    facets: {"Facet": "pair more alike less chart", "live_pairs": "book saying", "facets": "book saying"},
+    whole: {"Whole": "chart", "Ragged": "at beside chart", "whole_in": "book saying"},
+    coarsest: {"Coarsest": "facets carried", "TwoLeast": "one other first second chart", "least_sort": "book saying by",
+               "coarsest": "book saying"}}
 
 
 def written(parameter):
