@@ -85,6 +85,15 @@ def is_written(*texts):
     return lambda value: repr(value) in texts
 
 
+def is_just(value, other):
+    """Whether two nested tuples are equal, and of equal classes all the way in."""
+    if type(value) is not type(other):
+        return False
+    if isinstance(value, tuple):
+        return len(value) == len(other) and all(is_just(one, its) for one, its in zip(value, other))
+    return value == other
+
+
 def bent_all_through(value, others=(None, True, 0, 1, -1, 2, "list", (), (0,))):
     """The nested tuple with one item, at any depth, left out, doubled, exchanged with the next one or replaced."""
     for other in others:
