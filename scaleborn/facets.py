@@ -33,7 +33,7 @@ class Sight:
                 found.append(Facet(pair, more, alike, less, self.chart))
         return tuple(found)
 
-    def beside(self, number):
+    def numbers_beside(self, number):
         """The numbers of the lists that lie beside the one with this number."""
         cut = self.cuts[number]
         return [other for other, its in enumerate(self.cuts)

@@ -24,7 +24,7 @@ def whole_in(book, saying):
     """Whether a saying is whole in the book, and what shows it."""
     sight = sight_of(book, saying)
     for at, truth in enumerate(sight.told):
-        broken = [number for number in sight.beside(at) if not sight.told[number]]
+        broken = [number for number in sight.numbers_beside(at) if not sight.told[number]]
         if truth and len(broken) > 0:
             return Ragged(at, broken[0], sight.chart)
         if not truth and len(broken) == 0:

@@ -120,7 +120,7 @@ class Told(Shortness):
         self.refuses(BadSort, "by", lambda value: wording_of(IMPOSSIBLE, value, None), [is_a(Sort)])
         self.refuses(BadPaper, "fulls", lambda value: wording_of(IMPOSSIBLE, Sort.read("z : 0"), value), [
             lambda value: isinstance(value, (list, tuple)) and len(value) == 0])
-        for value in ([[1], [1, 0]], [[True]], [[2]], [[Ratio(1)]], [["1"]], [[]], [1], [[None]], "1", {(1,): 1}):
+        for value in ([[1], [1, 0]], [[True]], [[2]], [[-2]], [[Ratio(1)]], [["1"]], [[]], [1], [[None]], "1", {(1,): 1}):
             self.raises(BadPaper, {"part": "fulls"}, wording_of, BOOK, SORT, value)
         self.raises(NoThing, {"name": "c"}, wording_of, IMPOSSIBLE, Sort.read("d : e , c : d"), [])
         self.raises(Impossible, {"paper": fit(IMPOSSIBLE)}, wording_of, IMPOSSIBLE, SORT, [])

@@ -327,6 +327,10 @@ class Methods(Case):
         self.raises(NoPair, {"pair": "x : 0"}, self.chart.truths, Saying.read("( and [ a > b ] [ x > 0 ] [ a > 0 ] )"))
         self.refuses(BadNumber, "number", self.chart.scale_at, [
             lambda value: type(value) is int and 0 <= value < len(self.chart)])
+        for chart in (self.chart, CHART):
+            for number in (len(chart), -1, True, False):
+                self.raises(BadNumber, {"part": "number"}, chart.scale_at, number)
+            self.assertEqual(chart.scale_at(len(chart) - 1), chart.scales[-1])
 
     def test_nothing_passed_is_changed(self):
         pairs = list(self.pairs)

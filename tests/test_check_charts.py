@@ -118,6 +118,20 @@ class ShowsChart(Case):
                 if "b" in book.things:
                     self.assertIs(shows_chart(book, other, chart), is_right(book, other, chart))
 
+    def test_lists_in_other_orders(self):
+        rim = Book.read("a b | a >= b")
+        scales = [SCALE, Scale({"a": 1, "b": 1})]
+        barred = ("barred", (1, 1))
+        for lists, order, tree, told in (
+                ([(1,), (0,)], (0, 1), ("branch", ("list", 0), ("list", 1), barred), True),
+                ([(0,), (1,)], (1, 0), ("branch", ("list", 1), ("list", 0), barred), False),
+                ([(1,), (0,)], (0, 1), ("branch", ("list", 1), ("list", 0), barred), False),
+                ([(1,), (0,), (0,)], (0, 1, 1), ("branch", ("list", 0), ("list", 1), barred), False),
+                ([(1,), (0,), (0,)], (0, 1, 1), ("branch", ("list", 0), ("list", 2), barred), False),
+                ([(1,), (1,), (0,)], (0, 0, 1), ("branch", ("list", 0), ("list", 2), barred), False)):
+            value = Chart([PAIR], lists, [scales[at] for at in order], tree)
+            self.assertIs(shows_chart(rim, [PAIR], value), told)
+
     def test_impossible_books(self):
         for value in (CHART, Chart([PAIR], [], [], ("barred", (1, 1))), Chart([], [()], [SCALE], ("list", 0)),
                       Chart([], [], [], ("barred", (1, 1)))):

@@ -289,6 +289,14 @@ class ShowsJudged(Case):
             ("barred", (1, 1))))
         self.assertIs(shows_judged(BOOK, SAYING, Always(CHART)), True)
         self.assertIs(shows_judged(BOOK, SAYING, Always(twice)), False)
+        foreign = Chart([*CHART.pairs, Pair.read("z : 0")], [(1, 1)], [SCALE], CHART.tree)
+        self.assertIs(shows_judged(BOOK, SAYING, Always(foreign)), False)
+        for value in ODD:
+            for at in range(4):
+                parts = list(CHART.parts)
+                parts[at] = value
+                told = type(value) is list and at == 0 and len(value) == 1 and type(value[0]) is Pair
+                self.assertIs(shows_judged(BOOK, SAYING, Always(Chart(*parts))), told)
 
     def test_any_values(self):
         for value in ODD:
