@@ -6,10 +6,10 @@ from scaleborn.comparisons import Pair
 from scaleborn.errors import NotCarried, TooMany, Unlike
 from scaleborn.facets import keys_in, sight_of, unlike_pairs
 from scaleborn.papers import Denial, Paper
-from scaleborn.sorts import Sort
-from scaleborn.wordings import chart_by, divided_in
+from scaleborn.sorts import Sort, each_once
+from scaleborn.wordings import carries, chart_by, divided_in
 
-_MOST_FACETS = 15
+MOST_FACETS = 15
 _MOST_LIVE = 7
 
 
@@ -42,8 +42,8 @@ def coarsest(book, saying):
     """The sort of the facets, if it carries the saying, otherwise two least sorts."""
     sight = sight_of(book, saying)
     found = sight.all_facets()
-    if len(found) > _MOST_FACETS:
-        raise TooMany("pairs", _MOST_FACETS)
+    if len(found) > MOST_FACETS:
+        raise TooMany("pairs", MOST_FACETS)
     carried = carried_by(book, saying, Sort([facet.pair for facet in found]))
     if carried:
         return Coarsest(found, carried)
@@ -60,7 +60,7 @@ def _two_least(book, saying, first, facets_told):
     spare = [pair for pair in first if pair not in facets_told][-1]
     others = [pair for pair in first if pair != spare]
     sums = [Pair(spare.balance + pair.balance) for pair in others]
-    chart = charted(book, _each_once([*saying.pairs, *sums]))
+    chart = charted(book, each_once([*saying.pairs, *sums]))
     truths = chart.truths(saying)
     second = _left_of(chart, truths, unlike_pairs(book, [*others, *sums]))
     keys = keys_in(book, second.pairs)
@@ -74,12 +74,6 @@ def _left_of(chart, truths, pairs):
     stay = list(pairs)
     for pair in list(pairs)[::-1]:
         fewer = [other for other in stay if other != pair]
-        if divided_in(chart.cuts_by(chart.places_of(fewer)), truths) is None:
+        if carries(chart, fewer, truths):
             stay = fewer
     return Sort(stay)
-
-
-def _each_once(pairs):
-    """Each different pair once, in order."""
-    found = {str(pair): pair for pair in pairs}
-    return list(found.values())

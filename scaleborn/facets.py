@@ -69,7 +69,11 @@ def facets(book, saying):
 def sight_of(book, saying):
     """What a chart of the saying's pairs tells of its live ones."""
     need_saying(book, saying)
-    chart = charted(book, saying.pairs)
+    return sight_in(book, saying, charted(book, saying.pairs))
+
+
+def sight_in(book, saying, chart):
+    """What a chart that has all pairs of the saying tells of its live ones."""
     live = unlike_pairs(book, saying.pairs)
     return Sight(chart, live, chart.cuts_by(chart.places_of(live)), chart.truths(saying))
 

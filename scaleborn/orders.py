@@ -94,14 +94,15 @@ def _orders_of(things):
     """All weak orders of ascending things: the last thing is put beside or between the others."""
     orders = [()]
     for thing in things:
-        further = []
-        for order in orders:
-            for at in range(len(order) + 1):
-                further.append((*order[:at], (thing,), *order[at:]))
-            for at, together in enumerate(order):
-                further.append((*order[:at], (*together, thing), *order[at + 1:]))
-        orders = further
+        orders = [wider for order in orders for wider in _with_thing(order, thing)]
     return orders
+
+
+def _with_thing(order, thing):
+    """The weak orders that are this one but for one thing more, which is above all others by its name."""
+    between = [(*order[:at], (thing,), *order[at:]) for at in range(len(order) + 1)]
+    beside = [(*order[:at], (*together, thing), *order[at + 1:]) for at, together in enumerate(order)]
+    return [*between, *beside]
 
 
 def _row(one, kind, other):

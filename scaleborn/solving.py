@@ -30,11 +30,9 @@ class Table:
         steps = [dot(row, column) for row in self.matrix]
         out = self._first_out(steps)
         pivot, old = steps[out], self.matrix[out]
-        rows = []
-        for step, row in zip(steps, self.matrix):
-            rows.append([(mine * pivot - step * its) // self.divisor for mine, its in zip(row, old)])
-        rows[out] = old
-        self.matrix = rows
+        rows = [[(mine * pivot - step * its) // self.divisor for mine, its in zip(row, old)]
+                for step, row in zip(steps, self.matrix)]
+        self.matrix = [*rows[:out], old, *rows[out + 1:]]
         self.basis[out] = number
         self.divisor = pivot
 

@@ -78,6 +78,12 @@ def told_pairs(value):
     return tuple(value)
 
 
+def each_once(pairs):
+    """Each different pair once, in the order in which they come."""
+    found = {str(pair): pair for pair in pairs}
+    return list(found.values())
+
+
 def _are_different(numbers, many):
     """Whether any value is a list of different integers from 0 to below many."""
     if not is_list(numbers) or not all([is_within(number, 0, many - 1) for number in numbers]):

@@ -68,3 +68,8 @@ def divided_in(fulls, truths):
         if not truth and fulls[number] in kept:
             return kept[fulls[number]], number
     return None
+
+
+def carries(chart, pairs, truths):
+    """Whether no two lists of a chart agree on these pairs of it and have unlike truths."""
+    return divided_in(chart.cuts_by(chart.places_of(pairs)), truths) is None

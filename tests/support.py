@@ -4,10 +4,11 @@ import unittest
 
 from scaleborn.balances import Balance
 from scaleborn.books import Book
-from scaleborn.charts import Chart
+from scaleborn.charts import Chart, charted
+from scaleborn.check_charts import shows_chart
 from scaleborn.comparisons import Comparison, Pair
 from scaleborn.errors import BadText, ScaleError
-from scaleborn.papers import Paper
+from scaleborn.papers import Denial, Paper
 from scaleborn.ratios import Ratio
 from scaleborn.sayings import Saying
 from scaleborn.scales import Scale
@@ -107,6 +108,62 @@ def bent_all_through(value, others=(None, True, 0, 1, -1, 2, "list", (), (0,))):
             for bend in bent_all_through(item, others):
                 yield (*value[:at], bend, *value[at + 1:])
         yield (*value, 0)
+
+
+def bent_papers(paper, others=ODD):
+    """The paper with one part replaced, bent all through or exchanged with another one; papers of other classes."""
+    parts, made = paper.parts, type(paper)
+    for at, part in enumerate(parts):
+        for other in others:
+            yield made(*parts[:at], other, *parts[at + 1:])
+        if isinstance(part, tuple):
+            for bend in bent_all_through(part):
+                yield made(*parts[:at], bend, *parts[at + 1:])
+        for to in range(at):
+            swapped = list(parts)
+            swapped[at], swapped[to] = swapped[to], swapped[at]
+            yield made(*swapped)
+    yield Paper(paper.word, *parts)
+    yield Denial(paper.word, *parts)
+    yield parts
+
+
+def is_chart(book, value):
+    """Whether a value is a right chart of the book for its own pairs."""
+    if type(value) is not Chart or not isinstance(value.pairs, tuple):
+        return False
+    if not all(isinstance(pair, Pair) and set(pair.things) <= set(book.things) for pair in value.pairs):
+        return False
+    return len({str(pair) for pair in value.pairs}) == len(value.pairs) and shows_chart(book, value.pairs, value)
+
+
+def is_at(value, chart):
+    """Whether a value is the number of an outcome list of a chart."""
+    return type(value) is int and 0 <= value < len(chart.lists)
+
+
+def is_of(book, value):
+    """Whether a value is a scale of the book."""
+    return isinstance(value, Scale) and value.things == book.things and book.keeps(value)
+
+
+def bent_charts(book, chart):
+    """Charts that are nearly this one: most of them are wrong."""
+    yield Chart(chart.pairs[::-1], chart.lists, chart.scales, chart.tree)
+    yield Chart(chart.pairs, chart.lists[::-1], chart.scales[::-1], chart.tree)
+    yield Chart(chart.pairs, chart.lists[:-1], chart.scales[:-1], chart.tree)
+    yield Chart(chart.pairs, chart.lists, chart.scales[1:] + chart.scales[:1], chart.tree)
+    yield Chart(chart.pairs, chart.lists, chart.scales, ("list", 0))
+    yield Chart(chart.pairs[:-1], [told[:-1] for told in chart.lists], chart.scales, chart.tree)
+    yield Chart(chart.pairs, [[told == 1 or told for told in row] for row in chart.lists], chart.scales, chart.tree)
+    yield charted(book, chart.pairs[:-1])
+    yield charted(book, chart.pairs[::-1])
+    yield charted(book, [*chart.pairs, *[pair for pair in extra_pairs(book) if pair not in chart.pairs]])
+
+
+def extra_pairs(book):
+    """Two pairs of a book's things that other papers seldom have."""
+    return [Pair(Balance.of(book.things[0]) * 7), Pair(Balance({book.things[0]: 5, book.things[-1]: 3}))]
 
 
 def bent(text, more=()):

@@ -27,7 +27,7 @@ UNUSED_WORDS = set(
     "vars sys typing enum Enum Flag Generic Protocol ABC namedtuple overload dataclass contextmanager".split())
 STATEMENTS = (
     ast.Assign, ast.AugAssign, ast.If, ast.While, ast.For, ast.Return, ast.Break, ast.Continue, ast.Pass, ast.Raise,
-    ast.Expr, ast.FunctionDef, ast.ClassDef, ast.ImportFrom)
+    ast.Expr, ast.FunctionDef, ast.ClassDef, ast.ImportFrom, ast.Try, ast.Delete)
 EXPRESSIONS = (
     ast.BoolOp, ast.BinOp, ast.UnaryOp, ast.IfExp, ast.Dict, ast.ListComp, ast.DictComp, ast.Compare, ast.Call,
     ast.JoinedStr, ast.FormattedValue, ast.Constant, ast.Attribute, ast.Subscript, ast.Starred, ast.Name, ast.List,
@@ -88,6 +88,22 @@ INTERFACE = {
     "facets": {"Facet": ["__init__"], "live_pairs": 2, "facets": 2},
     "whole": {"Whole": ["__init__"], "Ragged": ["__init__"], "whole_in": 2},
     "coarsest": {"Coarsest": ["__init__"], "TwoLeast": ["__init__"], "least_sort": 3, "coarsest": 2},
+    "check_facets": {"shows_facet": 3, "shows_whole": 3, "shows_coarsest": 3},
+    "said": {"SaidBy": ["__init__"], "Fewest": ["__init__"], "said_by": 3, "said_saying": 3, "fewest_said": 3},
+    "finer": {"Finer": ["__init__"], "Coarser": ["__init__"], "finer_than": 3, "sorts_word": 3},
+    "check_said": {"shows_said": 4, "shows_fewest": 4, "shows_finer": 4},
+    "hands": {"Clash": ["__init__"], "Together": ["__init__"], "clash": 2, "settled": 3},
+    "between": {"Between": ["__init__"], "between": 4},
+    "chains": {"Chain": ["__init__"], "chain_of": 1, "clashing_hands": 1},
+    "check_between": {"shows_clash": 3, "shows_chain": 2, "shows_between": 5},
+    "spans": {"Span": ["__init__"], "span": 3, "ratio_at": 3},
+    "pins": {"pinned": 4, "simplest_between": 2, "copies_to_part": 2},
+    "check_spans": {"shows_span": 4},
+    "asks": {"Asking": ["__init__"], "asked": 3, "settled_at": 2},
+    "mends": {"Mended": ["__init__"], "mended": 1},
+    "check_asks": {"shows_asked": 4, "shows_mended": 2},
+    "live": {"Live": "__init__ tell take back again watch unwatch saying_of twin __eq__".split()},
+    "desk": {"Desk": "__init__ tell run back told_lines kept_names value_of __len__ __contains__ __eq__".split()},
 }
 
 
@@ -322,6 +338,8 @@ class Signs(unittest.TestCase):
                         good.append(node.args[1])
                 if isinstance(node, ast.ClassDef):
                     good.extend(node.bases)
+                if isinstance(node, ast.ExceptHandler):
+                    good.append(node.type)
                 if isinstance(node, ast.Attribute):
                     good.append(node.value)
                 if isinstance(node, ast.Compare) and isinstance(node.ops[0], (ast.Is, ast.IsNot)):
@@ -370,6 +388,82 @@ class Signs(unittest.TestCase):
         return [node.value for node in kept]
 
 
+class Loops(unittest.TestCase):
+    """What a loop or a comprehension walks is not changed in it, by whatever name."""
+
+    def names_of(self, function):
+        """For each name or attribute a word that it shares with those that may be names of the same value."""
+        groups = {}
+        for node in ast.walk(function):
+            if isinstance(node, ast.Assign) and isinstance(node.value, (ast.Name, ast.Attribute)):
+                for target in node.targets:
+                    if isinstance(target, (ast.Name, ast.Attribute)):
+                        one, other = ast.unparse(target), ast.unparse(node.value)
+                        old, new = groups.get(one, one), groups.get(other, other)
+                        groups = {key: new if word == old else word for key, word in groups.items()}
+                        groups[one] = groups[other] = groups[old] = groups[new] = new
+        return groups
+
+    def walked(self, node):
+        """What is walked, also through enumerate and the like, a choice or a view."""
+        if isinstance(node, (ast.Name, ast.Attribute)):
+            return [node]
+        if isinstance(node, ast.IfExp):
+            return self.walked(node.body) + self.walked(node.orelse)
+        if isinstance(node, ast.BoolOp):
+            return [found for part in node.values for found in self.walked(part)]
+        if isinstance(node, ast.Subscript) and not isinstance(node.slice, ast.Slice):
+            return self.walked(node.value)
+        if isinstance(node, ast.Call) and isinstance(node.func, ast.Name) and node.func.id in ("enumerate", "zip", "reversed"):
+            return [found for part in node.args for found in self.walked(part)]
+        if isinstance(node, ast.Call) and isinstance(node.func, ast.Attribute) and node.func.attr in ("items", "keys", "values"):
+            return self.walked(node.func.value)
+        return []
+
+    def changed(self, nodes):
+        """What is changed in some rows."""
+        for top in nodes:
+            for node in ast.walk(top):
+                if isinstance(node, ast.Call) and isinstance(node.func, ast.Attribute) and node.func.attr in CHANGES | {"add", "discard"}:
+                    yield node.func.value
+                if isinstance(node, ast.Subscript) and isinstance(node.ctx, (ast.Store, ast.Del)):
+                    yield node.value
+                if isinstance(node, ast.AugAssign):
+                    yield node.target
+
+    def loops(self, function):
+        """What is walked and, for each, the rows in which it is."""
+        for node in ast.walk(function):
+            if isinstance(node, ast.For):
+                yield node.iter, node.body
+            if isinstance(node, (ast.ListComp, ast.DictComp, ast.SetComp)):
+                for part in node.generators:
+                    yield part.iter, [node]
+
+    def check(self, function, name):
+        groups = self.names_of(function)
+        for walked, rows in self.loops(function):
+            words = [ast.unparse(node) for node in self.walked(walked)]
+            words = [groups.get(word, word) for word in words]
+            for node in self.changed(rows):
+                word = ast.unparse(node)
+                self.assertNotIn(groups.get(word, word), words, (name, function.name, node.lineno))
+
+    def test_what_is_walked_is_not_changed(self):
+        for name, (_, tree) in FILES.items():
+            for function in functions_of(tree):
+                self.check(function, name)
+
+    def test_the_check_itself(self):
+        for text in ("def f(xs):\n for x in xs:\n  xs.append(x)", "def f(xs):\n for x in enumerate(xs):\n  del xs[0]",
+                     "def f(d):\n for x in d.items():\n  d[x] = 1", "def f(xs, c):\n for x in (xs if c else []):\n  xs.pop()",
+                     "def f(xs):\n for y in xs:\n  ys = []\n  for x in xs:\n   ys.append(x)\n  xs = ys",
+                     "def f(s):\n rows = []\n for x in s.rows:\n  rows.append(x)\n s.rows = rows"):
+            with self.assertRaises(AssertionError, msg=text):
+                self.check(functions_of(ast.parse(text))[0], "")
+        self.check(functions_of(ast.parse("def f(xs):\n for x in list(xs):\n  xs.append(x)"))[0], "")
+
+
 class Operators(unittest.TestCase):
     """What operators, `==`, texts and lengths run changes nothing but what it makes itself."""
 
@@ -386,7 +480,7 @@ class Operators(unittest.TestCase):
                 self.methods.setdefault(method.name, []).append(method)
 
     def reached(self):
-        waiting = [method for name in UNDERSCORED for method in self.methods.get(name, [])]
+        waiting = [method for name in UNDERSCORED - {"__init__"} for method in self.methods.get(name, [])]
         seen = []
         while waiting:
             function = waiting.pop()
@@ -397,6 +491,9 @@ class Operators(unittest.TestCase):
                 if isinstance(node, ast.Call):
                     if isinstance(node.func, ast.Name):
                         waiting.extend(self.plain.get(node.func.id, []))
+                        if node.func.id in self.classes:
+                            waiting.extend([method for method in methods_of(self.classes[node.func.id])
+                                            if method.name == "__init__"])
                     else:
                         waiting.extend(self.methods.get(node.func.attr, []))
         return seen

@@ -4,9 +4,10 @@ import inspect
 import unittest
 
 from scaleborn import (
-    balances, books, carried, charts, check_charts, check_rounds, check_verdicts, check_wordings, checks, coarsest,
-    comparisons, errors, facets, fractions, heaps, hulls, order_sums, orders, papers, ratios, ready_sayings, ready_sorts,
-    rounds, sayings, scales, sorts, struck, told_wordings, verdicts, whole, wordings)
+    asks, balances, between, books, carried, chains, charts, check_asks, check_between, check_charts, check_facets,
+    check_rounds, check_said, check_spans, check_verdicts, check_wordings, checks, coarsest, comparisons, desk, errors,
+    facets, finer, fractions, hands, heaps, hulls, live, mends, order_sums, orders, papers, pins, ratios, ready_sayings,
+    ready_sorts, rounds, said, sayings, scales, sorts, spans, struck, told_wordings, verdicts, whole, wordings)
 from scaleborn.balances import Balance
 from scaleborn.books import Book
 from scaleborn.comparisons import Comparison, Pair
@@ -71,7 +72,28 @@ ARGUMENTS = {
     facets: {"Facet": "pair more alike less chart", "live_pairs": "book saying", "facets": "book saying"},
     whole: {"Whole": "chart", "Ragged": "at beside chart", "whole_in": "book saying"},
     coarsest: {"Coarsest": "facets carried", "TwoLeast": "one other first second chart", "least_sort": "book saying by",
-               "coarsest": "book saying"}}
+               "coarsest": "book saying"},
+    check_facets: {"shows_facet": "book saying value", "shows_whole": "book saying value", "shows_coarsest": "book saying value"},
+    said: {"SaidBy": "truths chart", "Fewest": "numbers chart parted", "said_by": "book told saying",
+           "said_saying": "book told saying", "fewest_said": "book told saying"},
+    finer: {"Finer": "chart", "Coarser": "pair one other", "finer_than": "book one other", "sorts_word": "book one other"},
+    check_said: {"shows_said": "book told saying value", "shows_fewest": "book told saying value",
+                 "shows_finer": "book one other value"},
+    hands: {"Clash": "comparison first second", "Together": "scale", "clash": "one other", "settled": "one other saying"},
+    between: {"Between": "saying mine its clashes", "between": "one saying other wanted"},
+    chains: {"Chain": "links weights", "chain_of": "hands", "clashing_hands": "hands"},
+    check_between: {"shows_clash": "one other value", "shows_chain": "hands value",
+                    "shows_between": "one saying other wanted value"},
+    spans: {"Span": "lowest highest low high", "span": "book one other", "ratio_at": "scale one other"},
+    pins: {"pinned": "book one other most", "simplest_between": "low high", "copies_to_part": "one other"},
+    check_spans: {"shows_span": "book one other value"},
+    asks: {"Asking": "number tree fewer chart", "asked": "book saying by", "settled_at": "tree outcomes"},
+    mends: {"Mended": "taken scale rounds", "mended": "book"},
+    check_asks: {"shows_asked": "book saying by value", "shows_mended": "book value"},
+    live: {"Live": "book", "Live.tell": "self row", "Live.take": "self number", "Live.back": "self", "Live.again": "self",
+           "Live.watch": "self name saying", "Live.unwatch": "self name", "Live.saying_of": "self name", "Live.twin": "self"},
+    desk: {"Desk": "lines=", "Desk.tell": "self line", "Desk.run": "self lines", "Desk.back": "self",
+           "Desk.told_lines": "self", "Desk.kept_names": "self", "Desk.value_of": "self name"}}
 
 
 def written(parameter):
