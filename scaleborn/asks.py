@@ -47,8 +47,8 @@ class Game:
             return None
         if self.is_settled(left):
             return left & self.held == left
-        number = [number for number in self._useful(left) if self._askings_by(left, number) == self.askings(left)][0]
-        return (number, *[self.shortest_tree(left & mask) for mask in self.had[number]])
+        best = [number for number in self._useful(left) if self._askings_by(left, number) == self.askings(left)][0]
+        return (best, *[self.shortest_tree(left & mask) for mask in self.had[best]])
 
     def stall_of(self, left, length, taken):
         """A stall of a length that does not settle what is left, these pairs having been asked."""

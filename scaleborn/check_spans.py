@@ -35,7 +35,8 @@ def _shows_low(book, one, other, end, value):
     if way is not None and not _is_way(book, way) or at.worth(other).sign < 1 or at.worth(gap).sign != 0:
         return False
     if gap.is_nothing:
-        return weights is None
+        # Then each scale has the end: it is reached.
+        return weights is None and way is None
     further = Comparison(gap, ">" if way is None else ">=")
     return are_weights(book.things, [*book.rows, further], weights)
 

@@ -53,7 +53,7 @@ class Desk:
 
     def told_lines(self):
         """The lines of the deeds that stand."""
-        return tuple([line for line, _, _ in self._deeds])
+        return tuple([deed[0] for deed in self._deeds])
 
     def kept_names(self):
         """The names that keep a value, ascending."""

@@ -61,6 +61,6 @@ def _needed(rounds, many, count):
     left = list(rounds)
     for weights in rounds:
         fewer = [other for other in left if other != weights]
-        if count > 0 and not can_be_had(fewer, many, count - 1):
+        if not can_be_had(fewer, many, count - 1):
             left = fewer
     return left

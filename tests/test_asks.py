@@ -236,7 +236,7 @@ class Asks(Case):
             self.assertIs(settled_at(leaf, []), leaf)
         for outcomes in ([], [1], [0, 1], (0, 1)):
             self.raises(BadNumber, {"part": "outcomes"}, settled_at, tree, outcomes)
-        for value in (None, 1, "1", {}, {1: 1}, [2], [1, 1, None], [True, 1, 1], [1, False], (1, 1, 2), [1, 1, "1"], [1.0, 1]):
+        for value in (None, 1, "1", {}, {1: 1}, [2], [-2], [1, 1, None], [True, 1, 1], [1, False], (1, 1, 2), [1, 1, "1"], [1.0, 1]):
             self.raises(BadNumber, {"part": "outcomes"}, settled_at, tree, value)
             self.raises(BadNumber, {"part": "outcomes"}, settled_at, True, value)
 

@@ -254,7 +254,7 @@ class CheckSaid(Case):
         self.refuses(BadBook, "book", lambda value: shows_finer(value, None, None, None), [is_a(Book)])
         self.refuses(BadSort, "one", lambda value: shows_finer(IMPOSSIBLE, value, None, None), [is_a(Sort)])
         self.refuses(BadSort, "other", lambda value: shows_finer(IMPOSSIBLE, Sort.read("z : 0"), value, None), [is_a(Sort)])
-        self.raises(NoThing, {"name": "c"}, shows_finer, IMPOSSIBLE, Sort.read("d : e , c : d"), Sort.read("b : c"), None)
+        self.raises(NoThing, {"name": "c"}, shows_finer, IMPOSSIBLE, Sort.read("d : e , c : d"), Sort.read("b : z"), None)
         self.raises(NoThing, {"name": "d"}, shows_finer, IMPOSSIBLE, SORT, Sort.read("e : f , d : e"), None)
 
 

@@ -33,7 +33,7 @@ def is_low(book, one, other, end, value):
     if at.worth(other).sign < 1 or at.worth(one) != at.worth(other) * end:
         return False
     if gap.is_nothing:
-        return weights is None
+        return weights is None and way is None
     rows = [*book.rows, Comparison(gap, ">" if way is None else ">=")]
     return type(weights) is tuple and is_round(Longer(rows), weights)
 
@@ -134,6 +134,9 @@ class CheckSpans(Case):
         for number, right in ((2, True), (0, False), (-2, False)):
             triple = (None, Scale({"a": number, "b": 0}), None)
             self.assertIs(shows_span(free, one, one, Span(1, 1, triple, triple)), right)
+        above = Scale({"a": 2, "b": 0})
+        for triple, right in (((None, SCALE, None), True), ((None, SCALE, above), False), (([1, 0], SCALE, None), False)):
+            self.assertIs(shows_span(BOOK.above_nothing(), one, one, Span(1, 1, *[(*triple[:1], Scale({"a": 2, "b": 1}), triple[2])] * 2)), right)
         nothing = (None, SCALE, None)
         self.assertIs(shows_span(BOOK, Balance({}), Balance({}), Span(1, 1, nothing, nothing)), False)
 

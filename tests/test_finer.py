@@ -149,8 +149,8 @@ class FinerSorts(Case):
             self.refuses(BadBook, "book", lambda value: function(value, None, None), [is_a(Book)])
             self.refuses(BadSort, "one", lambda value: function(IMPOSSIBLE, value, None), [is_a(Sort)])
             self.refuses(BadSort, "other", lambda value: function(IMPOSSIBLE, Sort.read("z : 0"), value), [is_a(Sort)])
-            self.raises(NoThing, {"name": "c"}, function, IMPOSSIBLE, Sort.read("d : e , c : d"), Sort.read("b : c"))
-            self.raises(NoThing, {"name": "d"}, function, IMPOSSIBLE, SORT, Sort.read("e : f , d : e"))
+            self.raises(NoThing, {"name": "c"}, function, IMPOSSIBLE, Sort.read("d : e , c : d"), Sort.read("b : z"))
+            self.raises(NoThing, {"name": "d"}, function, IMPOSSIBLE, SORT, Sort.read("a : b , e : f , d : e"))
             self.raises(Impossible, {"paper": fit(IMPOSSIBLE)}, function, IMPOSSIBLE, SORT, SORT)
             ladder = [Pair.read(f"a : {count} b") for count in range(2, 23)]
             self.raises(TooMany, {"what": "pairs", "most": 20}, function, BOOK, Sort(ladder[:12]), Sort(ladder[9:]))

@@ -84,6 +84,9 @@ class Pins(Case):
                     with self.assertRaises(NoThing) as caught:
                         call()
                     self.assertIs(caught.exception.name, told)
+        self.raises(NoThing, {"name": "z"}, pinned, IMPOSSIBLE, "z", "y", 0)
+        self.raises(NoThing, {"name": "y"}, pinned, IMPOSSIBLE, "a", "y", 0)
+        self.raises(NoThing, {"name": "y"}, pinned, BOOK, "y", "y", 61)
         self.refuses(BadNumber, "most", lambda value: pinned(IMPOSSIBLE, "a", "a", value),
                      [lambda value: type(value) is int and 1 <= value <= 60])
         self.raises(BadNumber, {"part": "most"}, pinned, IMPOSSIBLE, "a", "b", 61)
