@@ -12,7 +12,7 @@ from scaleborn.checks import is_integer, is_within
 from scaleborn.errors import BadBook
 from scaleborn.mends import Mended, can_be_had
 from scaleborn.scales import Scale
-from scaleborn.wordings import divided_in, need_by
+from scaleborn.wordings import need_by
 
 
 class Replay:
@@ -74,10 +74,9 @@ def shows_asked(book, saying, by, value):
         return False
     chart = value.chart
     fulls, truths = chart.cuts_by(chart.places_of(by.pairs)), chart.truths(saying)
-    if divided_in(fulls, truths) is not None or not is_within(value.number, 0, None):
-        return False
     replay = Replay(fulls, truths)
-    if replay.length_of(value.tree, list(range(len(fulls)))) != value.number:
+    # Lists that agree on the sort come to one place of the tree: that it settles the saying shows their one truth, too.
+    if not is_integer(value.number) or replay.length_of(value.tree, list(range(len(fulls)))) != value.number:
         return False
     return value.fewer is None if value.number == 0 else replay.is_stall(value.fewer, value.number - 1, {})
 

@@ -102,12 +102,11 @@ def _are_two(book, saying, value):
     if not _is_least(chart, first.pairs, truths) or not _is_least(chart, second.pairs, truths):
         return False
     # As both are least, no pair of theirs is held alike: a key tells which ones are one in the book.
-    mine, its = keys_in(book, first.pairs), keys_in(book, second.pairs)
-    common = [pair for pair, key in zip(first.pairs, mine) if key in its]
-    if len(common) == len(first) or all([key in mine for key in its]):
-        return False
+    keys = keys_in(book, second.pairs)
+    common = [pair for pair, key in zip(first.pairs, keys_in(book, first.pairs)) if key in keys]
     if not all([is_within(number, 0, len(chart) - 1) for number in (value.one, value.other)]):
         return False
+    # If one had all pairs of the other, the common ones would carry the saying: no such two lists would divide it.
     cuts = chart.cuts_by(chart.places_of(common))
     return cuts[value.one] == cuts[value.other] and truths[value.one] != truths[value.other]
 

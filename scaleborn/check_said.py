@@ -7,7 +7,6 @@ from scaleborn.check_charts import has_pairs, is_chart_of
 from scaleborn.check_rounds import is_scale_of
 from scaleborn.checks import is_within
 from scaleborn.choosing import ascending
-from scaleborn.comparisons import Pair
 from scaleborn.finer import Coarser, Finer, decides_all, need_sorts
 from scaleborn.said import Fewest, SaidBy, Telling, need_told
 
@@ -22,7 +21,7 @@ def shows_said(book, told, saying, value):
     telling = Telling(value.chart, told, saying)
     if telling.parted_at_all() is not None:
         return False
-    return _are_ways(value.truths, len(told)) and value.truths == telling.ways()
+    return _are_ways(value.truths) and value.truths == telling.ways()
 
 
 def shows_fewest(book, told, saying, value):
@@ -51,7 +50,7 @@ def shows_finer(book, one, other, value):
     if type(value) is Finer:
         return (is_chart_of(book, value.chart) and has_pairs(value.chart, [*one.pairs, *other.pairs])
                 and decides_all(value.chart, one, other))
-    if type(value) is not Coarser or not isinstance(value.pair, Pair) or value.pair not in other:
+    if type(value) is not Coarser or value.pair not in other:
         return False
     if not is_scale_of(book, value.one) or not is_scale_of(book, value.other):
         return False
@@ -80,16 +79,16 @@ def _is_divided(book, told, saying, value):
     return saying.holds(value.one) and not saying.holds(value.other)
 
 
-def _are_ways(value, many):
-    """Whether any value is a tuple of pairs, each of so many truths and of one more."""
+def _are_ways(value):
+    """Whether any value is a tuple of pairs of a tuple of truths and of one more, which are no numbers."""
     if not isinstance(value, tuple) or not all([isinstance(way, tuple) and len(way) == 2 for way in value]):
         return False
-    return all([_are_truths(known, many) and isinstance(held, bool) for known, held in value])
+    return all([isinstance(known, tuple) and _are_truths([*known, held]) for known, held in value])
 
 
-def _are_truths(value, many):
-    """Whether any value is a tuple of so many truths."""
-    return isinstance(value, tuple) and len(value) == many and all([isinstance(truth, bool) for truth in value])
+def _are_truths(values):
+    """Whether all of any values are truths."""
+    return all([isinstance(value, bool) for value in values])
 
 
 def _parts(telling, numbers, value):

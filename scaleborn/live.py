@@ -40,23 +40,11 @@ class Live:
 
     def back(self):
         """Undo the last deed that stands."""
-        if len(self._ahead) == 0:
-            raise Nothing()
-        book = self._ahead[-1]
-        words = self._words_in(book)
-        self._ahead.pop()
-        self._undone.append(self.book)
-        return self._put(book, words)
+        return self._moved(self._ahead, self._undone)
 
     def again(self):
         """Do again what was undone last."""
-        if len(self._undone) == 0:
-            raise Nothing()
-        book = self._undone[-1]
-        words = self._words_in(book)
-        self._undone.pop()
-        self._ahead.append(self.book)
-        return self._put(book, words)
+        return self._moved(self._undone, self._ahead)
 
     def watch(self, name, saying):
         """Keep a saying under a name; its word now."""
@@ -109,6 +97,14 @@ class Live:
         self._ahead.append(self.book)
         self._undone = []
         return self._put(book, words)
+
+    def _moved(self, start, end):
+        """Go to the last one of some books, which then stands among them no more, and put this one to others."""
+        if len(start) == 0:
+            raise Nothing()
+        words = self._words_in(start[-1])
+        end.append(self.book)
+        return self._put(start.pop(), words)
 
     def _words_in(self, book):
         """The words of the watched sayings in a book that is this one but for one row."""

@@ -156,6 +156,16 @@ class CheckAsks(Case):
         # What is settled can be asked for all the same, but then it is no shortest tree.
         self.assertIs(shows_asked(BOOK, SAYING, SORT, Asking(1, (0, True, None, None), (0, 0), chart)), False)
 
+    def test_a_stall_is_not_empty(self):
+        two = Book(["a", "b"])
+        chart, leaves = charted(two, SORT), [(0, True, None, None), (0, None, False, None), (0, None, None, False)]
+        twice = (0, *leaves)
+        thrice = (0, (0, leaves[0], None, None), *leaves[1:])
+        self.assertIs(shows_asked(two, SAYING, SORT, Asking(1, (0, True, False, False), (0, 1), chart)), True)
+        for number, tree in ((2, twice), (3, thrice)):
+            for stall in (((0, 1, ()),), (), ((0, 1, (0, 1)),), ((0, 1, ((0, 1, (0, 1)),)),), ((0, 1, ((0, 0, (0, 1)),)),)):
+                self.assertIs(shows_asked(two, SAYING, SORT, Asking(number, tree, stall, chart)), False)
+
     def test_pairs_of_the_chart(self):
         two, by = Book(["a", "b"]), Sort([])
         saying = Saying.read("( or [ a > b ] [ b >= a ] )")

@@ -190,6 +190,21 @@ class CheckBetween(Case):
         self.assertIs(shows_chain(rim, Chain([None, Comparison.read("a >= c")], [[1, 1], [1], [1]])), False)
         self.assertIs(shows_chain(rim, Chain([Comparison.read("a >= c"), Comparison.read("a > c")], [[1, 1], [1], [1]])), False)
 
+    def test_what_adds_up_to_nothing_and_shows_nothing(self):
+        # One hand alone, no row > used, no row used at all, less than 0 times a row.
+        self.assertIs(shows_chain([IMPOSSIBLE, BOOK], Chain([], [[1, 1]])), False)
+        self.assertIs(shows_chain([IMPOSSIBLE, BOOK], Chain([], [])), False)
+        even = [AB, Book.read("a b | b >= a")]
+        self.assertIs(shows_chain(even, Chain([Comparison.read("a >= b")], [[1], [1]])), False)
+        self.assertIs(shows_chain(even, Chain([None], [[0], [0]])), False)
+        for kind in (">", ">="):
+            one, other = Book.read(f"a b | a > b , a {kind} b"), Book.read("a b | b > a")
+            for weights, right in (([1, 0], True), ([2, -1], False), ([-1, 2], False), ([0, 1], kind == ">")):
+                self.assertIs(shows_clash(one, other, Clash(Comparison.read("a > b"), weights, [1])), right)
+                self.assertIs(shows_chain([one, other], Chain([Comparison.read("a > b")], [weights, [1]])), right)
+        tied = Book.read("a b | a = b , a > b")
+        self.assertIs(shows_clash(tied, Book.read("a b | b >= a"), Clash(Comparison.read("a > b"), [-1, 2], [1])), True)
+
     def test_impossible_hands_and_beyond_bounds(self):
         own = Clash(Comparison.read("a > b"), [2, 1], [1])
         self.assertIs(shows_clash(IMPOSSIBLE, Book.read("a b | b >= a"), own), True)

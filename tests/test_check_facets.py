@@ -233,6 +233,43 @@ class CheckFacets(Case):
         self.assertIs(shows_coarsest(book, saying, TwoLeast(*numbers, first, second, chart)), True)
         self.assertIs(shows_coarsest(book, saying, TwoLeast(*numbers, same, second, chart)), True)
 
+    def test_what_a_two_least_lacks(self):
+        lone, extra = Pair.read("a : b"), Pair.read("a : 0")
+        short, both = Sort.read("a : b , c : d"), Sort.read("a : b , a + c : b + d")
+        pairs = [lone, Pair.read("c : d"), Pair.read("a + c : b + d"), extra]
+        for row, right in ((">", True), ("=", True), (">=", False)):
+            # The same chart, in books that are strict or not.
+            book = Book.read(f"a b c d e | e {row} 0")
+            chart = charted(book, pairs)
+            numbers = [[told[:3] for told in chart.lists].index(three) for three in ((0, 1, 1), (0, -1, -1))]
+            self.assertIs(shows_coarsest(book, TIE, TwoLeast(*numbers, short, both, chart)), right)
+        chart = charted(QUAD, pairs)
+        numbers = [[told[:3] for told in chart.lists].index(three) for three in ((0, 1, 1), (0, -1, -1))]
+        for first, second, right in ((short, both, True), (short + Sort([extra]), both, False), (short, both + Sort([extra]), False),
+                                     (Sort([extra]) + short, both, False), (short, Sort([extra]) + both, False),
+                                     (Sort([lone]), both, False), (short, Sort([lone]), False), (Sort([]), both, False)):
+            self.assertIs(shows_coarsest(QUAD, TIE, TwoLeast(*numbers, first, second, chart)), right)
+        # No facet, and no common pair: the numbers may be those of the first list and of the middle one.
+        alike = Saying.read("( and [ a = b ] [ c = d ] )")
+        second = Sort.read("a + c : b + d , a + d : b + c")
+        chart = charted(QUAD, [*short, *second])
+        middle = chart.number_of((0, 0, 0, 0))
+        self.assertEqual(facets(QUAD, alike), ())
+        for numbers, right in (((0, middle), True), ((middle, 0), True), ((len(chart) - 1, middle), True), ((-1, middle), False),
+                               ((middle, len(chart)), False), ((0, 1), False), ((middle, middle), False)):
+            self.assertIs(shows_coarsest(QUAD, alike, TwoLeast(*numbers, short, second, chart)), right)
+        # Facets that carry too little.
+        found, apart = facets(QUAD, TIE), carried_by(QUAD, TIE, Sort([lone]))
+        self.assertFalse(apart)
+        self.assertIs(shows_coarsest(QUAD, TIE, Coarsest(found, apart)), False)
+
+    def test_numbers_that_count_from_the_end(self):
+        edge = Book.read("a b | a >= b")
+        chart = charted(edge, SAYING.pairs)
+        self.assertEqual(chart.lists, ((1,), (0,)))
+        for at, right in ((1, True), (-1, False), (0, False), (2, False)):
+            self.assertIs(shows_whole(edge, SAYING, Ragged(at, None, chart)), right)
+
     def test_true_in_the_place_of_1(self):
         chart = charted(TRIO, WIDE.pairs)
         facet = facets(TRIO, WIDE)[0]
@@ -272,8 +309,10 @@ class CheckFacets(Case):
         sixteen = either_of([ladder[at] & ~ladder[at + 1] for at in range(0, 16, 2)])
         found = facets(book, sixteen)
         self.assertEqual(len(found), 16)
-        carried = carried_by(book, sixteen, Sort([facet.pair for facet in found[:15]]))
-        self.assertIs(shows_coarsest(book, sixteen, Coarsest(found, carried)), False)
+        self.assertIs(shows_coarsest(book, sixteen, Coarsest(found, Carried(sixteen, found[0].chart))), False)
+        fifteen = either_of([*[ladder[at] & ~ladder[at + 1] for at in range(0, 14, 2)], ladder[14]])
+        paper = coarsest(book, fifteen)
+        self.assertEqual((len(paper.facets), shows_coarsest(book, fifteen, paper)), (15, True))
 
     def test_odd_values(self):
         for value in ODD:

@@ -225,6 +225,17 @@ class CheckSaid(Case):
             self.assertIs(shows_finer(abc, one, other, Coarser(pair, *scales[::-1])), False)
         self.assertIs(shows_finer(abc, one, other, Coarser(Pair.read("a : 0"), *scales)), False)
 
+    def test_scales_that_do_not_agree(self):
+        low, even, high = [Scale({"a": worth, "b": 1}) for worth in (0, 1, 2)]
+        for told, one, other, right in (([MORE], even, high, True), ([MORE], even, low, False), ([LESS], even, low, True),
+                                        ([LESS], even, high, False), ([MORE, LESS], even, high, False), ([], even, low, True),
+                                        ([MORE, SAME], even, even, False), ([MORE], high, even, False)):
+            for shows in (shows_said, shows_fewest):
+                self.assertIs(shows(TWO, told, SAME, Divided(one, other)), right)
+        for by, right in ((Sort([]), True), (Sort.read("a : 0"), False), (Sort.read("b : 0"), True)):
+            self.assertIs(shows_finer(TWO, by, SORT, Coarser(SORT.pairs[0], high, low)), right)
+            self.assertIs(shows_finer(TWO, by, SORT, Coarser(SORT.pairs[0], low, high)), False)
+
     def test_impossible_books(self):
         chart = charted(TWO, SAYING.pairs)
         empty = Chart((), (), (), ("barred", (1, 1)))

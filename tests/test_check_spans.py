@@ -124,6 +124,17 @@ class CheckSpans(Case):
                 (open_book, ([1, 0, 1], none[1], Scale({"a": 0, "b": 0})), False)):
             self.assertIs(shows_span(book, one, other, Span(2, None, low, none)), right)
 
+    def test_ways(self):
+        # A way has just the book's things, 0 or more for each row > and >=, and 0 for each row =.
+        book, one, other = Book.read("a b c d | a = b , c > 0 , d >= 0"), Balance.of("a"), Balance.of("c")
+        scale, high = Scale({"a": 1, "b": 1, "c": 1, "d": 0}), Scale({"a": 1, "b": 1, "c": 0, "d": 0})
+        for worths, right in (("a -1 b -1 c 0 d 0", True), ("a -1 b -2 c 0 d 0", False), ("a -1 b 0 c 0 d 0", False),
+                              ("a -1 b -1 c 0 d 5", True), ("a -1 b -1 c 0 d -1", False), ("a -1 b -1 c 0", False),
+                              ("a -1 b -1 c 0 d 0 e 0", False), ("a -1 b -1 c 1 d 0", False), ("a 0 b 0 c 0 d 0", False),
+                              ("a 1 b 1 c 0 d 0", False)):
+            value = Span(None, None, (None, scale, Scale.read(worths)), (None, scale, high))
+            self.assertIs(shows_span(book, one, other, value), right, worths)
+
     def test_what_is_not_above_nothing(self):
         free = Book(["a", "b"])
         one, other = Balance.of("a"), Balance.of("b")
