@@ -204,7 +204,7 @@ class CheckFacets(Case):
             loose = book.with_rows(Comparison(Balance.of(book.things[0]) * 0 + Balance.of(book.things[-1]), ">="))
             self.check(shows_coarsest, is_coarsest, loose, saying, [paper])
             if paper:
-                for order in itertools.permutations(paper.facets):
+                for order in (*itertools.permutations(paper.facets), list(paper.facets)):
                     self.assertIs(shows_coarsest(book, saying, Coarsest(order, paper.carried)), True)
                 few = [Coarsest(paper.facets[1:], paper.carried), Coarsest((*paper.facets, *paper.facets[:1]), paper.carried)]
                 few.extend([Coarsest(paper.facets, Carried(paper.carried.wording, chart))

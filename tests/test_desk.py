@@ -180,6 +180,30 @@ class Desks(Case):
                 self.bad(desk, " ".join([other, *words[1:]]), 0)
             self.bad(desk, " " + " ".join(words), 0)
 
+    def test_words_left_out_doubled_and_exchanged(self):
+        desk = full_desk()
+        for first, name in (("fit", "k"), ("judge", "k t"), ("holds", "m s"), ("outcome", "m p"), ("carries", "k s o"),
+                            ("lists", "k o"), ("ask", "k s q"), ("show", "p"), ("facets", "new k s")):
+            words, kinds = [first, *name.split(" ")], wanted(first)
+            lines = [words[:at] + words[at + 1:] for at in range(1, len(words))]
+            lines.extend([words[:at] + [words[at]] + words[at:] for at in range(1, len(words))])
+            lines.extend([words[:at] + [""] + words[at:] for at in range(len(words) + 1)])
+            for at in range(1, len(words)):
+                for to in range(1, at):
+                    swapped = list(words)
+                    swapped[at], swapped[to] = swapped[to], swapped[at]
+                    lines.append(swapped)
+            for line in lines:
+                wrong = [at for at, word in enumerate(line[1:len(words)]) if not self.may_stand(kinds[at], word)]
+                if line[0] != first:
+                    self.bad(desk, " ".join(line), 0)
+                elif wrong:
+                    self.bad(desk, " ".join(line), wrong[0] + 1)
+                elif len(line) != len(words):
+                    self.bad(desk, " ".join(line), min(len(line), len(words)))
+                else:
+                    self.assertIs(type(full_desk().tell(" ".join(line))), str)
+
     def may_stand(self, kind, word):
         """Whether a word may stand for a value of this kind."""
         if kind is None:

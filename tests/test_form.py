@@ -287,6 +287,27 @@ class Signs(unittest.TestCase):
                 if isinstance(node, ast.AugAssign):
                     self.assertIsInstance(node.value, ast.Constant, (name, node.lineno))
 
+    def test_own_errors_alone_are_caught(self):
+        classes = all_classes()
+        for name, (_, tree) in FILES.items():
+            for node in ast.walk(tree):
+                if isinstance(node, ast.Try):
+                    self.assertFalse(node.finalbody or node.orelse, name)
+                    for handler in node.handlers:
+                        self.assertIn(handler.type.id, classes, (name, handler.lineno))
+                        self.assertIsInstance(handler.body[-1], ast.Raise)
+                if isinstance(node, ast.Delete):
+                    for target in node.targets:
+                        self.assertIsInstance(target, ast.Subscript, (name, node.lineno))
+
+    def test_what_is_thrown_away_is_not_read(self):
+        for name, (_, tree) in FILES.items():
+            for node in ast.walk(tree):
+                if isinstance(node, ast.Name) and node.id == "_":
+                    self.assertIsInstance(node.ctx, ast.Store, (name, node.lineno))
+                if isinstance(node, ast.Tuple) and isinstance(node.ctx, ast.Store):
+                    self.assertLess([getattr(part, "id", "") for part in node.elts].count("_"), 2, (name, node.lineno))
+
     def test_constants(self):
         for name, (_, tree) in FILES.items():
             docs = [ast.get_docstring(node, clean=False) for node in ast.walk(tree)
